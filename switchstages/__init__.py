@@ -1,0 +1,1 @@
+"""Switchstages: programs for packets, laid into the stages of a chip."""
