@@ -1,11 +1,12 @@
 """Headers and packets: what they are, and how a header's bytes are read and written."""
 
 from switchstages.errors import InvalidFields, InvalidHeaders, InvalidNumber, InvalidPacket, InvalidRest
-from switchstages.words import are_bytes, are_unlike, is_byte, is_name, is_number, is_row, is_word, names_in
+from switchstages.words import (
+    are_bytes, are_sized, are_unlike, are_words_for, is_byte, is_name, is_number, is_row, names_in,
+)
 
 MOST_HEADERS = 6
 MOST_FIELDS = 12
-MOST_WIDTH = 32
 MOST_HEADER_BITS = 128
 MOST_BYTES = 128
 
@@ -24,15 +25,10 @@ def is_header(value):
 
 def are_header_fields(value):
     """Whether value is the fields of one header: named, and of whole bytes together."""
-    if not is_row(value, 1, MOST_FIELDS) or not all([is_field(part) for part in value]):
+    if not are_sized(value, 1, MOST_FIELDS):
         return False
     bits = sum([width for _, width in value])
-    return are_unlike(names_in(value)) and bits % 8 == 0 and bits <= MOST_HEADER_BITS
-
-
-def is_field(value):
-    """Whether value is the name of a field and its width."""
-    return is_row(value, 2, 2) and is_name(value[0]) and is_number(value[1], 1, MOST_WIDTH)
+    return bits % 8 == 0 and bits <= MOST_HEADER_BITS
 
 
 def is_packet(value):
@@ -43,14 +39,6 @@ def is_packet(value):
 def is_rest(value):
     """Whether value is a row of as many bytes as a packet may have."""
     return are_bytes(value, 0, MOST_BYTES)
-
-
-def are_words_of(header, value):
-    """Whether value is a word for each field of a header."""
-    fields = header[1]
-    if not is_row(value, len(fields), len(fields)):
-        return False
-    return all([is_word(word, field[1]) for word, field in zip(value, fields)])
 
 
 def size_of(headers, index):
@@ -71,7 +59,7 @@ def read_header(headers, index, taken):
 def write_header(headers, index, words):
     """The bytes of the header with this index, its fields having these words."""
     check_index(headers, index)
-    if not are_words_of(headers[index], words):
+    if not are_words_for(headers[index][1], words):
         raise InvalidFields(words)
     return bytes_from(headers[index], words)
 

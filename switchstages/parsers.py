@@ -1,9 +1,9 @@
 """Frames: how packets are parsed, which way they take, and what is sent of them."""
 
 from switchstages.errors import InvalidFields, InvalidFrame, InvalidRest
-from switchstages.headers import are_headers, are_words_of, bytes_from, check_packet, header_size, is_rest, words_from
+from switchstages.headers import are_headers, bytes_from, check_packet, header_size, is_rest, words_from
 from switchstages.states import LOCAL_IN, aim_by, is_parser, place_of
-from switchstages.words import is_row, names_in
+from switchstages.words import are_words_for, is_row, names_in
 
 
 def is_frame(value):
@@ -25,7 +25,7 @@ def are_fields(headers, value):
     """Whether value is, for each header, None or the words of its fields."""
     if not is_row(value, len(headers), len(headers)):
         return False
-    return all([words is None or are_words_of(header, words) for header, words in zip(headers, value)])
+    return all([words is None or are_words_for(header[1], words) for header, words in zip(headers, value)])
 
 
 def way_of(frame, packet):

@@ -1,22 +1,25 @@
 """What whole numbers, rows, words, bytes and names are."""
 
 LETTERS = "abcdefghijklmnopqrstuvwxyz"
+FIGURES = "0123456789"
 NAME_SIGNS = "abcdefghijklmnopqrstuvwxyz0123456789_"
-KEPT_WORDS = (
-    "header", "local", "state", "read", "accept", "refuse", "go", "by", "case", "else",
-    "order", "register", "action", "param", "table", "key", "exact", "prefix", "mask", "range",
-    "default", "room", "control", "end", "set", "put", "strike", "touch", "add", "greatest",
-    "least", "or", "into", "apply", "if", "then", "not", "both", "and", "either",
-    "held", "in", "out", "gone", "entry", "to",
-)
+WORD_WIDTH = 32
+# A dict, for a name is looked for in it each time that one is checked.
+KEPT_WORDS = {
+    "header": True, "local": True, "state": True, "read": True, "accept": True, "refuse": True, "go": True,
+    "by": True, "case": True, "else": True, "order": True, "register": True, "action": True, "param": True,
+    "table": True, "key": True, "exact": True, "prefix": True, "mask": True, "range": True, "default": True,
+    "room": True, "control": True, "end": True, "set": True, "put": True, "strike": True, "touch": True,
+    "add": True, "greatest": True, "least": True, "or": True, "into": True, "apply": True, "if": True,
+    "then": True, "not": True, "both": True, "and": True, "either": True, "held": True, "in": True,
+    "out": True, "gone": True, "entry": True, "to": True,
+}
 
 
 def is_number(value, least, most):
     """Whether value is a whole number from least up to most."""
     # To Python, True and False are ints; here they are no numbers.
-    if not isinstance(value, int) or isinstance(value, bool):
-        return False
-    return least <= value <= most
+    return isinstance(value, int) and least <= value <= most and not isinstance(value, bool)
 
 
 def is_word(value, width):
@@ -26,7 +29,7 @@ def is_word(value, width):
 
 def is_byte(value):
     """Whether value is a byte."""
-    return is_word(value, 8)
+    return is_number(value, 0, 255)
 
 
 def is_row(value, least, most):
@@ -36,15 +39,15 @@ def is_row(value, least, most):
 
 def are_bytes(value, least, most):
     """Whether value is a tuple of least up to most bytes."""
-    return is_row(value, least, most) and all([is_byte(byte) for byte in value])
+    return is_row(value, least, most) and all([is_number(byte, 0, 255) for byte in value])
 
 
 def is_name(value):
     """Whether value is a name: short, of plain signs, a letter first, no kept word."""
-    if not isinstance(value, str) or not 1 <= len(value) <= 12:
+    if not isinstance(value, str) or not 0 < len(value) <= 12:
         return False
-    plain = all([sign in NAME_SIGNS for sign in value])
-    return plain and value[0] in LETTERS and value not in KEPT_WORDS
+    # Of plain signs alone strip leaves nothing; it is a lot faster than to look at them one by one.
+    return not value.strip(NAME_SIGNS) and value[0] in LETTERS and value not in KEPT_WORDS
 
 
 def is_text_of(value, texts):
@@ -59,5 +62,26 @@ def are_unlike(texts):
 
 
 def names_in(parts):
-    """The names of headers, fields or states: the first elements, in order."""
+    """The names of headers, fields, states and the like: the first elements, in order."""
     return tuple([part[0] for part in parts])
+
+
+def are_sized(value, least, most):
+    """Whether value is a row of least up to most pairs of a name and a width, the names unlike."""
+    if not is_row(value, least, most):
+        return False
+    # Each call that is passed headers comes here for each of them, so no pair is left to a function of its own.
+    for part in value:
+        if not isinstance(part, tuple) or len(part) != 2:
+            return False
+        name, width = part
+        if not is_name(name) or not is_number(width, 1, WORD_WIDTH):
+            return False
+    return are_unlike(names_in(value))
+
+
+def are_words_for(sized, value):
+    """Whether value is a row with a word for each pair of a name and a width."""
+    if not is_row(value, len(sized), len(sized)):
+        return False
+    return all([is_word(word, width) for (_, width), word in zip(sized, value)])

@@ -53,7 +53,7 @@ for _ in range(29):
 JUNK.append(DEEP_TUPLE)
 
 
-def assert_raises(case, error, attribute, value, call, *args, **named):
+def assert_raises(case, error, attribute, value, call, /, *args, **named):
     """That the call raises just this error, with just this value, and leaves its arguments alone."""
     before = shape((args, named))
     try:

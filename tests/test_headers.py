@@ -138,6 +138,23 @@ class HeadersTest(unittest.TestCase):
                 self.assertEqual(read_header(WIDEST, index, write_header(WIDEST, index, words)), words)
 
 
+    def test_each_bit_of_the_last_one_of_the_widest_headers(self):
+        names = [f"long_name_{at:02d}" for at in range(12)]
+        widths = (32, 1, 31, 2, 30, 3, 5, 7, 11, 4, 1, 1)
+        fields = tuple(zip(names, widths))
+        headers = tuple((name, fields) for name in names[:6])
+        self.assertEqual([are_headers(headers), size_of(headers, 5)], [True, 16])
+        bit = 127
+        for at, width in enumerate(widths):
+            for shift in reversed(range(width)):
+                words = tuple((1 << shift) * (at == other) for other in range(12))
+                taken = tuple((1 << bit).to_bytes(16, "big"))
+                self.assertEqual(write_header(headers, 5, words), taken)
+                self.assertEqual(read_header(headers, 5, taken), words)
+                bit -= 1
+        self.assertEqual(bit, -1)
+
+
 class PacketsTest(unittest.TestCase):
     def test_right_packets(self):
         for value in [(0, ()), (255, ()), (0, (0,) * 128), (255, (255,) * 128), (7, (1, 2))]:

@@ -1,0 +1,60 @@
+"""Keys of tables and what entries seek by them: which values are right, and which words hit."""
+
+from switchstages.words import is_number, is_row, is_word
+
+KINDS = ("exact", "prefix", "mask", "range")
+MOST_KEYS = 3
+MOST_KEY_BITS = 48
+MOST_ENTRIES = 32
+
+
+def are_sought(pairs, value):
+    """Whether value is what an entry may seek by these pairs of a kind and a width."""
+    if not is_row(value, len(pairs), len(pairs)):
+        return False
+    return all([is_sought(kind, width, part) for (kind, width), part in zip(pairs, value)])
+
+
+def is_sought(kind, width, value):
+    """Whether value is what an entry may seek by one key."""
+    if kind == "exact":
+        return is_word(value, width)
+    if not is_row(value, 2, 2) or not is_word(value[0], width):
+        return False
+    if kind == "prefix":
+        return is_number(value[1], 0, width) and value[0] & ((1 << (width - value[1])) - 1) == 0
+    if not is_word(value[1], width):
+        return False
+    return value[0] & value[1] == value[0] if kind == "mask" else value[0] <= value[1]
+
+
+def as_mask(kind, width, sought):
+    """The word and the mask by which just the same words are hit; of all kinds but range."""
+    whole = (1 << width) - 1
+    if kind == "exact":
+        return sought, whole
+    if kind == "mask":
+        return sought
+    word, bits = sought
+    return word, whole ^ ((1 << (width - bits)) - 1)
+
+
+def is_hit(pairs, sought, words):
+    """Whether these words hit what an entry seeks."""
+    return all([is_key_hit(kind, width, part, word) for (kind, width), part, word in zip(pairs, sought, words)])
+
+
+def is_key_hit(kind, width, sought, word):
+    """Whether this word hits what an entry seeks by one key."""
+    if kind == "range":
+        return sought[0] <= word <= sought[1]
+    wanted, mask = as_mask(kind, width, sought)
+    return word & mask == wanted
+
+
+def first_hit(pairs, entries, words):
+    """The index of the first entry that these words hit; None if they hit none."""
+    for index, entry in enumerate(entries):
+        if is_hit(pairs, entry[0], words):
+            return index
+    return None
