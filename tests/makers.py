@@ -50,14 +50,16 @@ class Maker:
         headers = self.headers() if headers is None else headers
         while True:
             names = self.names(1, most_states)
-            parser = tuple(self.state(headers, name, names[at + 1:]) for at, name in enumerate(names))
+            # Each header at most once makes most parsers right ones; otherwise they are read as it comes.
+            heads = [name for name, _ in headers] + [None] * max(1, most_states - len(headers))
+            heads = self.chance.sample(heads, len(names)) if self.upto(2) else [self.pick(heads) for _ in names]
+            parser = tuple(self.state(headers, name, heads[at], names[at + 1:]) for at, name in enumerate(names))
             order = self.chance.sample([name for name, _ in headers], len(headers))
             if is_frame((headers, parser, tuple(order))):
                 return (headers, parser, tuple(order))
 
-    def state(self, headers, name, later):
-        header = self.pick([None] + [name for name, _ in headers] * 3)
-        kind = self.pick(["accept", "refuse", "go", "by", "by", "by"])
+    def state(self, headers, name, header, later):
+        kind = self.pick(["accept", "go", "go", "by", "by", "by"])
         if kind == "go" and later:
             return (name, header, ("go", self.pick(later)))
         if kind != "by":
@@ -77,7 +79,7 @@ class Maker:
     def program(self):
         headers, parser, order = self.frame()
         own = tuple((name, 1 + self.upto(31)) for name in self.names(0, 3))
-        registers = tuple((name, 1 + self.upto(31), 1 + self.upto(15)) for name in self.names(0, 2))
+        registers = tuple((name, 1 + self.upto(31), 1 + self.upto(15)) for name in self.names(min(1, self.upto(4)), 2))
         places = [("local", name) for name in ("in", "out", "gone") + tuple(name for name, _ in own)]
         places += [("field", name, field) for name, parts in headers for field, _ in parts]
         there = (places, [name for name, _ in headers], [name for name, _, _ in registers])
@@ -133,7 +135,7 @@ class Maker:
 
     def block(self, there, tables, deep):
         items = []
-        for _ in range(self.upto(4)):
+        for _ in range(deep + self.upto(4 - deep)):
             kind = self.upto(3)
             if kind == 0 and tables:
                 items.append(("table", tables.pop()))

@@ -4,9 +4,29 @@ import importlib
 import inspect
 import unittest
 
-from switchstages import headers, parsers
+from switchstages import headers, parsers, programs, tables, texts, ways
 from switchstages.errors import StageError
 from tests.samples import FRAME, HEADERS, JUNK
+from tests.small import FILLED, NONE, SMALL
+from tests.test_tables import KEYS, THREE
+
+FILLING = (7, 0, 0, 0, 1, 0, 9, 0, 0)
+# All functions that raise errors, with arguments that are right.
+CALLS = [
+    (headers.size_of, [HEADERS, 0]), (headers.read_header, [HEADERS, 1, (35,)]),
+    (headers.write_header, [HEADERS, 1, (1, 3)]),
+    (parsers.way_of, [FRAME, (1, (7, 35))]), (parsers.parse, [FRAME, (1, (7, 35))]),
+    (parsers.send, [FRAME, ((7,), (1, 3)), ()]), (parsers.comes_back, [FRAME, (1, (7, 35))]), (ways.ways, [FRAME]),
+    (ways.packet_on, [FRAME, ("start", "accept")]), (ways.dead_states, [FRAME]), (ways.lost, [FRAME]),
+    (ways.does_lead, [FRAME, 0, 7]), (programs.boxes_of, [SMALL]), (programs.widths_of, [SMALL]),
+    (programs.first_cells, [SMALL]),
+    (programs.worked, [SMALL, FILLED, NONE, (1, (7, 35))]),
+    (programs.worked_all, [SMALL, FILLED, NONE, ((1, (7, 35)),)]),
+    (programs.behind, [SMALL, FILLED, NONE, FILLING]), (texts.show_program, [SMALL]),
+    (texts.read_program, [texts.show_program(SMALL)]), (texts.show_contents, [SMALL, FILLED]),
+    (texts.read_contents, [SMALL, texts.show_contents(SMALL, FILLED)]), (tables.hit_by, [KEYS, THREE, (1, 1)]),
+    (tables.told_by, [KEYS, THREE, (1, 1)]), (tables.idle_in, [KEYS, THREE]), (tables.without_idle, [KEYS, THREE]),
+]
 
 LISTED = {
     "headers": {
@@ -16,6 +36,25 @@ LISTED = {
     "parsers": {
         "is_frame": ["value"], "way_of": ["frame", "packet"], "parse": ["frame", "packet"],
         "send": ["frame", "fields", "rest"], "comes_back": ["frame", "packet"],
+    },
+    "ways": {
+        "ways": ["frame"], "packet_on": ["frame", "way"], "dead_states": ["frame"], "lost": ["frame"],
+        "does_lead": ["frame", "state", "word"],
+    },
+    "programs": {
+        "is_program": ["value"], "is_contents": ["program", "value"], "is_cells": ["program", "value"],
+        "boxes_of": ["program"], "widths_of": ["program"], "first_cells": ["program"],
+        "worked": ["program", "contents", "cells", "packet"],
+        "worked_all": ["program", "contents", "cells", "packets"],
+        "behind": ["program", "contents", "cells", "filling"],
+    },
+    "texts": {
+        "show_program": ["program"], "read_program": ["writing"], "show_contents": ["program", "contents"],
+        "read_contents": ["program", "writing"],
+    },
+    "tables": {
+        "is_keys": ["value"], "are_entries": ["keys", "value"], "hit_by": ["keys", "entries", "words"],
+        "told_by": ["keys", "entries", "words"], "idle_in": ["keys", "entries"], "without_idle": ["keys", "entries"],
     },
 }
 
@@ -32,25 +71,42 @@ class InterfaceTest(unittest.TestCase):
                     self.assertIs(parameter.kind, parameter.POSITIONAL_OR_KEYWORD)
                     self.assertIs(parameter.default, parameter.empty)
 
+    def test_each_function_that_raises_errors_is_called_here(self):
+        listed = [name for functions in LISTED.values() for name in functions if name.split("_")[0] not in ("is",
+            "are")]
+        self.assertEqual(listed, [call.__name__ for call, _ in CALLS])
+
     def test_true_or_false_is_told_whatever_the_value_is(self):
-        for value in JUNK + [HEADERS, FRAME, (1, (2,)), ()]:
-            for call in (headers.are_headers, headers.is_packet, parsers.is_frame):
-                self.assertIsInstance(call(value), bool)
-                self.assertIs(call(value), call(value=value))
+        calls = [
+            (headers.are_headers, []), (headers.is_packet, []), (parsers.is_frame, []), (programs.is_program, []),
+            (programs.is_contents, [SMALL]), (programs.is_cells, [SMALL]), (tables.is_keys, []),
+            (tables.are_entries, [KEYS]),
+        ]
+        for value in JUNK + [HEADERS, FRAME, (1, (2,)), (), SMALL, FILLED, NONE, KEYS, THREE]:
+            for call, ahead in calls:
+                self.assertIsInstance(call(*ahead, value), bool)
+                self.assertIs(call(*ahead, value), call(*ahead, value=value))
 
     def test_whatever_is_passed_only_own_errors_are_raised(self):
-        calls = [
-            (headers.size_of, [HEADERS, 0]), (headers.read_header, [HEADERS, 1, (35,)]),
-            (headers.write_header, [HEADERS, 1, (1, 3)]), (parsers.way_of, [FRAME, (1, (7, 35))]),
-            (parsers.parse, [FRAME, (1, (7, 35))]), (parsers.send, [FRAME, ((7,), (1, 3)), ()]),
-            (parsers.comes_back, [FRAME, (1, (7, 35))]),
-        ]
-        for call, right in calls:
+        for call, right in CALLS:
             call(*right)
             for at in range(len(right)):
-                for value in JUNK:
+                # One of these values is contents of the small program.
+                for value in [value for value in JUNK if value != ((),)]:
                     with self.assertRaises(StageError):
                         call(*right[:at], value, *right[at + 1:])
+
+    def test_arguments_may_be_given_by_position_or_by_name(self):
+        parameters = {name: told for functions in LISTED.values() for name, told in functions.items()}
+        for call, right in CALLS:
+            named = dict(zip(parameters[call.__name__], right))
+            self.assertEqual(call(**dict(reversed(named.items()))), call(*right))
+
+    def test_what_is_passed_is_left_as_it_is(self):
+        for call, right in CALLS:
+            before = repr(right)
+            self.assertEqual(call(*right), call(*right))
+            self.assertEqual(repr(right), before)
 
 
 if __name__ == "__main__":

@@ -2,7 +2,9 @@
 
 import unittest
 
-from switchstages.words import are_bytes, are_unlike, is_byte, is_name, is_number, is_row, is_text_of, is_word
+from switchstages.words import (
+    are_bytes, are_sized, are_unlike, are_words_for, is_byte, is_name, is_number, is_row, is_text_of, is_word, names_in,
+)
 from tests.samples import JUNK, KEPT_WORDS, RIGHT_NAMES, WRONG_NAMES
 
 
@@ -55,6 +57,24 @@ class WordsTest(unittest.TestCase):
         for value in JUNK:
             self.assertIs(is_text_of(value, ("a", "b")), False)
         self.assertEqual([are_unlike(()), are_unlike(("a", "b")), are_unlike(("a", "b", "a"))], [True, True, False])
+
+    def test_pairs_of_a_name_and_a_width(self):
+        pairs = (("a", 1), ("b", 32), ("c", 8))
+        self.assertEqual([are_sized(pairs, 0, 3), are_sized(pairs, 0, 2), are_sized(pairs, 4, 5)], [True, False, False])
+        self.assertEqual([are_sized((), 0, 3), are_sized((), 1, 3), names_in(pairs)], [True, False, ("a", "b", "c")])
+        for part in [("d", 0), ("d", 33), ("d", True), ("d",), ("d", 1, 1), ["d", 1], ("in", 1), ("a", 2), (1, "d"),
+            None]:
+            self.assertIs(are_sized(pairs + (part,), 0, 4), False, part)
+
+    def test_words_for_pairs_of_a_name_and_a_width(self):
+        pairs = (("a", 1), ("b", 32))
+        for words, right in [
+            ((0, 0), True), ((1, 4294967295), True), ((2, 0), False), ((0, 4294967296), False), ((0,), False),
+            ((0, 0, 0), False), ([0, 0], False), ((True, 0), False), ((0, None), False), (None, False),
+            ((-1, 0), False),
+        ]:
+            self.assertIs(are_words_for(pairs, words), right, words)
+        self.assertIs(are_words_for((), ()), True)
 
 
 if __name__ == "__main__":

@@ -121,7 +121,7 @@ class RowsTest(unittest.TestCase):
 
     def test_two_rows_are_worked_as_one(self):
         touched = 0
-        for seed in range(150):
+        for seed in range(200):
             maker = Maker(seed)
             program = maker.program()
             boxes = [("field",) + box if len(box) == 2 and box[0] != "local" else box for box in boxes_of(program)]
@@ -143,7 +143,7 @@ class RowsTest(unittest.TestCase):
 
     def test_a_packet_is_parsed_then_the_control_is_done_then_it_is_sent(self):
         sorts = set()
-        for seed in range(150):
+        for seed in range(200):
             maker = Maker(seed)
             program = maker.program()
             frame = (program[0], program[2], program[3])
