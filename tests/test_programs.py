@@ -71,7 +71,8 @@ WRONG_STEPS = [
     ("touch", "hits", 0, "add", 1, "old"), ("touch", "hits", 0, "add", 1, ("held", "tag")),
     ("touch", "hits", 0, "add", 1, ("local", "new")), ("touch", "hits", 0, "add", 1, ()),
     ("touch", "hits", ("param", "port"), "add", 1, None), ("touch", "hits", 0, "add", True, None), (None, "tag"),
-    ("touch", "hits", 0, "add", 1, False), ("touch", "hits", 0, "greater", 1, None),
+    ("touched", "hits", 0, "add", 1, None), (None, "hits", 0, "add", 1, None), ("touch", "hits", 0, "add", 1, False),
+    ("touch", "hits", 0, "greater", 1, None),
     ("touch", "hits", deep_expression(6), "add", 1, None), ("touch", "hits", 0, "add", deep_expression(6), None),
 ]
 
