@@ -14,18 +14,17 @@ FILLING = (7, 0, 0, 0, 1, 0, 9, 0, 0)
 # All functions that raise errors, with arguments that are right.
 CALLS = [
     (headers.size_of, [HEADERS, 0]), (headers.read_header, [HEADERS, 1, (35,)]),
-    (headers.write_header, [HEADERS, 1, (1, 3)]),
-    (parsers.way_of, [FRAME, (1, (7, 35))]), (parsers.parse, [FRAME, (1, (7, 35))]),
-    (parsers.send, [FRAME, ((7,), (1, 3)), ()]), (parsers.comes_back, [FRAME, (1, (7, 35))]), (ways.ways, [FRAME]),
-    (ways.packet_on, [FRAME, ("start", "accept")]), (ways.dead_states, [FRAME]), (ways.lost, [FRAME]),
-    (ways.does_lead, [FRAME, 0, 7]), (programs.boxes_of, [SMALL]), (programs.widths_of, [SMALL]),
-    (programs.first_cells, [SMALL]),
+    (headers.write_header, [HEADERS, 1, (1, 3)]), (parsers.way_of, [FRAME, (1, (7, 35))]),
+    (parsers.parse, [FRAME, (1, (7, 35))]), (parsers.send, [FRAME, ((7,), (1, 3)), ()]),
+    (parsers.comes_back, [FRAME, (1, (7, 35))]), (ways.ways, [FRAME]), (ways.packet_on, [FRAME, ("start", "accept")]),
+    (ways.dead_states, [FRAME]), (ways.lost, [FRAME]), (ways.does_lead, [FRAME, 0, 7]), (programs.boxes_of, [SMALL]),
+    (programs.widths_of, [SMALL]), (programs.first_cells, [SMALL]),
     (programs.worked, [SMALL, FILLED, NONE, (1, (7, 35))]),
-    (programs.worked_all, [SMALL, FILLED, NONE, ((1, (7, 35)),)]),
-    (programs.behind, [SMALL, FILLED, NONE, FILLING]), (texts.show_program, [SMALL]),
-    (texts.read_program, [texts.show_program(SMALL)]), (texts.show_contents, [SMALL, FILLED]),
-    (texts.read_contents, [SMALL, texts.show_contents(SMALL, FILLED)]), (tables.hit_by, [KEYS, THREE, (1, 1)]),
-    (tables.told_by, [KEYS, THREE, (1, 1)]), (tables.idle_in, [KEYS, THREE]), (tables.without_idle, [KEYS, THREE]),
+    (programs.worked_all, [SMALL, FILLED, NONE, ((1, (7, 35)),)]), (programs.behind, [SMALL, FILLED, NONE, FILLING]),
+    (texts.show_program, [SMALL]), (texts.read_program, [texts.show_program(SMALL)]),
+    (texts.show_contents, [SMALL, FILLED]), (texts.read_contents, [SMALL, texts.show_contents(SMALL, FILLED)]),
+    (tables.hit_by, [KEYS, THREE, (1, 1)]), (tables.told_by, [KEYS, THREE, (1, 1)]), (tables.idle_in, [KEYS, THREE]),
+    (tables.without_idle, [KEYS, THREE]),
 ]
 
 LISTED = {

@@ -25,30 +25,28 @@ RIGHT_EXPRESSIONS = [
 ]
 WRONG_EXPRESSIONS = [
     -1, 4294967296, True, False, None, "old", "in", 10 ** 399, (), (1,), [1], ["add", 1, 1], ("old",), ("in",),
-    ("local",),
-    ("local", "new"), ("local", "base"), ("local", ["old"]), ("local", "old", "old"), ("field", "base", "mark"),
-    ("field", "tag"), ("field", "none", "mark"), ("field", "base", "kind", 1), ("field", "base", {}), ("tag", "mark"),
-    ("param", "port"), ("param", "new"), ("held", "none"), ("held", "kind"), ("held",), ("held", "tag", "tag"),
-    ("held", None), ("held", ("tag",)), ("held", ["tag"]), ("add", 1), ("add", 1, 2, 3), ("add", 1, True),
-    ("add", None, 1),
-    ("mul", 1, 2), ("same", 1, 2), ("not", 1), ("add", 1, ("same", 1, 1)), ("add", ["local", "old"], 1), ("Add", 1, 1),
-    ("add", 1, -1), ("add", 4294967296, 1), deep_expression(6), deep_expression(6, KIND, -1), (None, 1, 1), (1, 1, 1),
-    (("add",), 1, 1), ("box", 1), ("word", 1), ("register", "hits"), {"add": 1}, ("left", "old", 1), (OLD, OLD),
+    ("local",), ("local", "new"), ("local", "base"), ("local", ["old"]), ("local", "old", "old"),
+    ("field", "base", "mark"), ("field", "tag"), ("field", "none", "mark"), ("field", "base", "kind", 1),
+    ("field", "base", {}), ("tag", "mark"), ("param", "port"), ("param", "new"), ("held", "none"), ("held", "kind"),
+    ("held",), ("held", "tag", "tag"), ("held", None), ("held", ("tag",)), ("held", ["tag"]), ("add", 1),
+    ("add", 1, 2, 3), ("add", 1, True), ("add", None, 1), ("mul", 1, 2), ("same", 1, 2), ("not", 1),
+    ("add", 1, ("same", 1, 1)), ("add", ["local", "old"], 1), ("Add", 1, 1), ("add", 1, -1), ("add", 4294967296, 1),
+    deep_expression(6), deep_expression(6, KIND, -1), (None, 1, 1), (1, 1, 1), (("add",), 1, 1), ("box", 1),
+    ("word", 1), ("register", "hits"), {"add": 1}, ("left", "old", 1), (OLD, OLD),
 ]
 RIGHT_CONDITIONS = [
     *[(cond, OLD, 7) for cond in CONDS], ("not", YES), ("both", YES, ("not", YES)),
-    ("either", YES, ("below", KIND, TTL)),
-    deep_condition(4), deep_condition(3, ("both", YES, ("same", deep_expression(5), deep_expression(5)))),
+    ("either", YES, ("below", KIND, TTL)), deep_condition(4),
+    deep_condition(3, ("both", YES, ("same", deep_expression(5), deep_expression(5)))),
     deep_condition(4, ("from", deep_expression(5), ("held", "tag"))),
 ]
 WRONG_CONDITIONS = [
     None, True, 1, "same", (), ("same",), ("same", 1), ("same", 1, 1, 1), ("same", 1, YES), ("same", -1, 1),
-    ["same", 1, 1],
-    ("add", 1, 1), ("not",), ("not", 1), ("not", YES, YES), ("not", None), ("both", YES), ("both", YES, 1),
-    ("both", YES, YES, YES), ("either", 1, YES), ("either", YES), ("either", [YES], YES), ("held", "tag"), OLD,
-    ("and", YES, YES), ("or", YES, YES), ("Same", 1, 1), deep_condition(5), ("same", deep_expression(6), 1),
-    deep_condition(4, ("both", YES, YES)), ("below", 1, ("param", "port")), (None, YES), (["not"], YES),
-    ("other", True, 1),
+    ["same", 1, 1], ("add", 1, 1), ("not",), ("not", 1), ("not", YES, YES), ("not", None), ("both", YES),
+    ("both", YES, 1), ("both", YES, YES, YES), ("either", 1, YES), ("either", YES), ("either", [YES], YES),
+    ("held", "tag"), OLD, ("and", YES, YES), ("or", YES, YES), ("Same", 1, 1), deep_condition(5),
+    ("same", deep_expression(6), 1), deep_condition(4, ("both", YES, YES)), ("below", 1, ("param", "port")),
+    (None, YES), (["not"], YES), ("other", True, 1),
 ]
 RIGHT_STEPS = [
     ("set", OUT, 1), ("set", GONE, OLD), ("set", OLD, IN), ("set", KIND, MARK), ("set", TTL, deep_expression(5)), PUT,
@@ -72,8 +70,8 @@ WRONG_STEPS = [
     ("touch", "hits", 0, "add", 1, ("local", "new")), ("touch", "hits", 0, "add", 1, ()),
     ("touch", "hits", ("param", "port"), "add", 1, None), ("touch", "hits", 0, "add", True, None), (None, "tag"),
     ("touched", "hits", 0, "add", 1, None), (None, "hits", 0, "add", 1, None), ("touch", "hits", 0, "add", 1, False),
-    ("touch", "hits", 0, "greater", 1, None),
-    ("touch", "hits", deep_expression(6), "add", 1, None), ("touch", "hits", 0, "add", deep_expression(6), None),
+    ("touch", "hits", 0, "greater", 1, None), ("touch", "hits", deep_expression(6), "add", 1, None),
+    ("touch", "hits", 0, "add", deep_expression(6), None),
 ]
 
 
@@ -233,11 +231,11 @@ class TablesTest(Telling):
             ((KIND, "exact"), (KIND, "exact"))))
         wrong = [
             (), ((TTL, "exact"),) * 4, [(TTL, "exact")], (TTL, "exact"), ((TTL,),), ((TTL, "exact", 8),),
-            ([TTL, "exact"],),
-            ((TTL, None),), ((TTL, "Exact"),), ((TTL, ["exact"]),), ((TTL, "any"),), (("exact", TTL),), ((1, "exact"),),
-            ((("param", "port"), "exact"),), ((("held", "tag"), "exact"),), ((("local", "new"), "exact"),), (None,),
-            ((("field", "tag", "kind"), "exact"),), ((("add", 1, 1), "exact"),), ((["local", "in"], "exact"),), None,
-            ((TTL, "exact"), None), ((TTL, "exact"), (TTL, "exact", 1)),
+            ([TTL, "exact"],), ((TTL, None),), ((TTL, "Exact"),), ((TTL, ["exact"]),), ((TTL, "any"),),
+            (("exact", TTL),), ((1, "exact"),), ((("param", "port"), "exact"),), ((("held", "tag"), "exact"),),
+            ((("local", "new"), "exact"),), (None,), ((("field", "tag", "kind"), "exact"),),
+            ((("add", 1, 1), "exact"),), ((["local", "in"], "exact"),), None, ((TTL, "exact"), None),
+            ((TTL, "exact"), (TTL, "exact", 1)),
         ]
         self.wrong(*self.changed(1, *wrong, *JUNK))
 
@@ -267,10 +265,8 @@ class TablesTest(Telling):
         self.right(*self.changed(3, ("drop", ()), ("send", (0,)), ("send", (255,))))
         self.wrong(*self.changed(
             3, (), ("drop",), ("drop", (), ()), ["drop", ()], ("drop", (1,)), ("drop", []), ("drop", None),
-            ("send", ()),
-            ("send", (256,)), ("send", (-1,)), ("send", (True,)), ("send", [1]), ("send", (1, 1)), ("send", 1),
-            ("none", ()),
-            (None, ()), (["drop"], ()), ("send", (None,)), ("send", ("1",)), "drop", None,
+            ("send", ()), ("send", (256,)), ("send", (-1,)), ("send", (True,)), ("send", [1]), ("send", (1, 1)),
+            ("send", 1), ("none", ()), (None, ()), (["drop"], ()), ("send", (None,)), ("send", ("1",)), "drop", None,
         ))
         self.wrong(small_with(actions=(SEND, DROP, ("more", (), ())), tables=(HOPS[:3] + (("more", ()), 4),)))
 

@@ -15,11 +15,10 @@ ONE = ((4, 1), (0, 0))
 KINDS = ("exact", "prefix", "mask", "range")
 WRONG_KEYS = [
     (), (("exact", 1),) * 4, (("exact", 0),), (("exact", 33),), (("exact", -1),), (("exact", True),),
-    (("exact", None),),
-    (("exact", "8"),), (("exact", (8,)),), (("Exact", 8),), (("any", 8),), ((None, 8),), ((8, "exact"),), (("exact",),),
-    (("exact", 8, 8),), (["exact", 8],), [("exact", 8)], ("exact", 8), (("exact", 8), None), ((("exact",), 8),), None,
-    (("exact", 32), ("mask", 17)), (("exact", 17), ("mask", 16), ("range", 16)),
-    (("exact", 32), ("mask", 16), ("range", 1)),
+    (("exact", None),), (("exact", "8"),), (("exact", (8,)),), (("Exact", 8),), (("any", 8),), ((None, 8),),
+    ((8, "exact"),), (("exact",),), (("exact", 8, 8),), (["exact", 8],), [("exact", 8)], ("exact", 8),
+    (("exact", 8), None), ((("exact",), 8),), None, (("exact", 32), ("mask", 17)),
+    (("exact", 17), ("mask", 16), ("range", 16)), (("exact", 32), ("mask", 16), ("range", 1)),
     (("exact", 32), ("mask", 32)), {"exact": 8}, "exact", (["exact"], 8), (("", 8),), (("exact", 10 ** 399),),
     ((b"exact", 8),),
 ]
@@ -30,8 +29,7 @@ RIGHT_SOUGHT = {
 }
 WRONG_PAIRS = [
     (0,), (0, 0, 0), [0, 0], 0, None, (None, 0), (0, None), (True, 1), (1, True), ("0", 0), (0, "0"), ((0,), 0),
-    (-1, 0), (0, -1),
-    (8, 8), (0, 8), (8, 3), (0, 10 ** 399), {}, "00", (0, (0,)),
+    (-1, 0), (0, -1), (8, 8), (0, 8), (8, 3), (0, 10 ** 399), {}, "00", (0, (0,)),
 ]
 WRONG_SOUGHT = {
     "exact": [-1, 8, True, False, None, "1", (1,), [1], (0, 0), 10 ** 399, {}],
@@ -110,8 +108,7 @@ class TablesTest(unittest.TestCase):
         self.assertEqual(told, [True, True, True, False, False])
         wrong = [value for value in JUNK if value != ()] + [
             THREE[0], list(THREE), (list(THREE[0]),), (THREE[0][:2],), (THREE[0] + ((),),), ((ONE, "a"),),
-            ((ONE, (), "a"),),
-            THREE + (None,), {0: THREE[0]}, ((("a",), ONE, ()),),
+            ((ONE, (), "a"),), THREE + (None,), {0: THREE[0]}, ((("a",), ONE, ()),),
         ]
         for value in wrong:
             self.assertIs(are_entries(value=value, keys=KEYS), False, value)
@@ -134,10 +131,9 @@ class TablesTest(unittest.TestCase):
             ("prefix", (2147483648, 1), [2147483648, most], [0, 2147483647]), ("prefix", (0, 0), [0, 77, most], []),
             ("prefix", (most, 32), [most], [most - 1, 0]), ("prefix", (most - 1, 31), [most, most - 1], [most - 2]),
             ("mask", (0, 0), [0, most], []), ("mask", (most, most), [most], [most - 1]),
-            ("mask", (1, 1), [1, most], [0, most - 1]),
-            ("mask", (0, 2147483649), [2, 2147483646], [1, 2147483648]), ("range", (0, most), [0, 5, most], []),
-            ("range", (7, 7), [7], [6, 8]), ("range", (most, most), [most], [0, most - 1]),
-            ("range", (1, 3), [1, 2, 3], [0, 4]),
+            ("mask", (1, 1), [1, most], [0, most - 1]), ("mask", (0, 2147483649), [2, 2147483646], [1, 2147483648]),
+            ("range", (0, most), [0, 5, most], []), ("range", (7, 7), [7], [6, 8]),
+            ("range", (most, most), [most], [0, most - 1]), ("range", (1, 3), [1, 2, 3], [0, 4]),
         ]:
             keys, entries = ((kind, 32), ("mask", 16)), (((part, (0, 0)), "a", (1,)),)
             for word in hits:
@@ -154,8 +150,7 @@ class TablesTest(unittest.TestCase):
         )
         for words, told in [
             ((1, 0, 0), 0), ((1, 2, 3), 0), ((1, 3, 2), 1), ((1, 3, 1), 2), ((2, 3, 3), 3), ((2, 2, 3), None),
-            ((0, 0, 0), None),
-            ((2, 3, 2), None), ((3, 3, 3), None),
+            ((0, 0, 0), None), ((2, 3, 2), None), ((3, 3, 3), None),
         ]:
             self.assertEqual(hit_by(words=words, entries=entries, keys=keys), told)
             self.assertEqual(told_by(words=words, entries=entries, keys=keys),
@@ -312,8 +307,7 @@ class WrongArgumentsTest(unittest.TestCase):
                 self.told(0 if isinstance(value, tuple) and len(value) < 33 else None, value)
         for value in JUNK + [
             THREE[0][:2], THREE[0] + ((),), list(THREE[0]), (ONE, "in", ()), (ONE, "a", (0,) * 5), (ONE, "a", [0]),
-            (ONE[:1], "a", ()),
-            (ONE + ONE[:1], "a", ()), (((4, 0), (0, 0)), "a", ()), (((4, 1), (1, 0)), "a", ()),
+            (ONE[:1], "a", ()), (ONE + ONE[:1], "a", ()), (((4, 0), (0, 0)), "a", ()), (((4, 1), (1, 0)), "a", ()),
             (ONE, "a", (4294967296,)),
         ]:
             self.told(0, (value,) + THREE)

@@ -107,8 +107,8 @@ class ProgramTextsTest(unittest.TestCase):
             ((("old", 16), ("base", 1)), ("tag", "base"), (("hits", 16, 4), ("a", 1, 1))))
         self.assertEqual(parser, (
             ("start", "base", ("by", KIND, ((1, 255, "more"), (0, 0, "refuse")), "accept")),
-            ("more", None, ("go", "last")),
-            ("none", None, ("by", IN, (), "refuse")), ("last", "tag", ("accept",)), ("lost", None, ("refuse",)),
+            ("more", None, ("go", "last")), ("none", None, ("by", IN, (), "refuse")), ("last", "tag", ("accept",)),
+            ("lost", None, ("refuse",)),
         ))
         port, way = ("param", "port"), ("param", "way")
         self.assertEqual(actions, (

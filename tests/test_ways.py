@@ -396,9 +396,9 @@ class WrongArgumentsTest(unittest.TestCase):
         wrong = JUNK + [
             (), ("start",), ("accept",), ("more", "accept"), ("start", "refuse"), ("start", "more", "refuse"),
             ["start", "accept"], ("start", "accept", "accept"), ("start", "start", "accept"), ("start", None),
-            (None, "accept"),
-            ("start", "more"), "start", ("start", ["accept"]), (("start", "accept"),), ("start", "Accept"), (0, 1),
-            ("start", "accept", "more"), {"start": "accept"}, ("start", True), ("start", b"accept"), ("", ""),
+            (None, "accept"), ("start", "more"), "start", ("start", ["accept"]), (("start", "accept"),),
+            ("start", "Accept"), (0, 1), ("start", "accept", "more"), {"start": "accept"}, ("start", True),
+            ("start", b"accept"), ("", ""),
         ]
         for value in wrong:
             assert_raises(self, InvalidWay, "given", value, packet_on, FRAME, value)

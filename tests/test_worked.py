@@ -200,8 +200,7 @@ class ContentsTest(unittest.TestCase):
     def test_prefix(self):
         wrong = [
             (255, 7), (1, 0), (128, 0), (1, 7), (64, 1), (0, 9), (256, 8), (0, -1), (0, True), (0, None), (True, 8),
-            (0,),
-            (0, 8, 8), [0, 8], 0, None, ("0", 8), ((0,), 8), (-128, 1), (0, "8"), (None, 0), (256, 0),
+            (0,), (0, 8, 8), [0, 8], 0, None, ("0", 8), ((0,), 8), (-128, 1), (0, "8"), (None, 0), (256, 0),
         ]
         self.seek(keyed("prefix"), [(0, 0), (0, 8), (255, 8), (254, 7), (128, 1), (192, 2), (192, 8), (0, 3)], wrong)
         self.seek(keyed("prefix", width=32), [(4294967295, 32), (2147483648, 1), (0, 0)],
@@ -211,8 +210,7 @@ class ContentsTest(unittest.TestCase):
     def test_mask(self):
         wrong = [
             (1, 0), (128, 127), (255, 254), (256, 256), (0, 256), (0, -1), (-1, 255), (True, 1), (0, True), (0,),
-            (0, 1, 1),
-            [0, 1], 0, None, (None, 1), (0, None), ("0", 1), (0, (1,)), (256, 511),
+            (0, 1, 1), [0, 1], 0, None, (None, 1), (0, None), ("0", 1), (0, (1,)), (256, 511),
         ]
         self.seek(keyed("mask"), [(0, 0), (0, 255), (255, 255), (5, 7), (128, 128), (0, 128)], wrong)
         self.seek(keyed("mask", width=32), [(4294967295, 4294967295), (0, 4294967295)],
@@ -240,11 +238,10 @@ class ContentsTest(unittest.TestCase):
         right = [((1,), "drop", ()), ((1,), "send", (0,)), ((1,), "send", (255,))]
         wrong = [
             ((1,), "send", ()), ((1,), "send", (256,)), ((1,), "send", (-1,)), ((1,), "send", (True,)),
-            ((1,), "send", [1]),
-            ((1,), "send", (1, 1)), ((1,), "drop", (1,)), ((1,), "drop", None), ((1,), "none", ()), ((1,), None, ()),
-            ((1,), ["drop"], ()), ((1,), "drop"), ((1,), "drop", (), ()), [(1,), "drop", ()], (1, "drop", ()), (), None,
-            ((1,), "send", 1), ((1,), ("send", (1,))), ((1,), "send", (None,)), ((1,), "send", ("1",)),
-            ((1,), "Send", (1,)),
+            ((1,), "send", [1]), ((1,), "send", (1, 1)), ((1,), "drop", (1,)), ((1,), "drop", None), ((1,), "none", ()),
+            ((1,), None, ()), ((1,), ["drop"], ()), ((1,), "drop"), ((1,), "drop", (), ()), [(1,), "drop", ()],
+            (1, "drop", ()), (), None, ((1,), "send", 1), ((1,), ("send", (1,))), ((1,), "send", (None,)),
+            ((1,), "send", ("1",)), ((1,), "Send", (1,)),
         ]
         self.told(keyed("exact"), right, wrong + [((1,), name, ()) for name in WRONG_NAMES] + JUNK)
         other = small_with(tables=(HOPS[:2] + (("drop",),) + HOPS[3:],))
