@@ -14,20 +14,43 @@ def whole_of(pairs, sought):
 
 def is_covered(pairs, whole, others):
     """Whether all words of a whole are words of others, too."""
+    return loose_piece(pairs, whole, others) is None
+
+
+def words_beside(pairs, whole, others):
+    """Any words of a whole that are none of others; None if there are none."""
+    found = loose_piece(pairs, whole, others)
+    while found is not None and found[1]:
+        piece, near = found
+        at = greatest_of(pairs, near)
+        # Some piece beside has such words, for the piece itself has some.
+        for beside in pieces_beside(pairs, piece, near[at]):
+            found = loose_piece(pairs, beside, near[:at] + near[at + 1:])
+            if found is not None:
+                break
+    return None if found is None else tuple([first for first, _ in found[0]])
+
+
+def loose_piece(pairs, whole, others):
+    """A piece of a whole with words that are none of others, and what it shares with these; None for none."""
     left = [(whole, others)]
     while left:
         piece, near = left.pop()
         shared = [shared_by(pairs, piece, other) for other in near]
         near = [other for other in shared if other is not None]
-        sizes = [size_of_whole(pairs, other) for other in near]
         # Too few words, even if no two of the others shared one.
-        if sum(sizes) < size_of_whole(pairs, piece):
-            return False
-        # The greatest one leaves the fewest words, so it is taken away first.
-        at = sizes.index(max(sizes))
+        if sum([size_of_whole(pairs, other) for other in near]) < size_of_whole(pairs, piece):
+            return piece, near
+        at = greatest_of(pairs, near)
         rest = near[:at] + near[at + 1:]
         left.extend([(beside, rest) for beside in pieces_beside(pairs, piece, near[at])])
-    return True
+    return None
+
+
+def greatest_of(pairs, wholes):
+    """The index of the whole with the most words: taken away first, it leaves the fewest."""
+    sizes = [size_of_whole(pairs, whole) for whole in wholes]
+    return sizes.index(max(sizes))
 
 
 def size_of_whole(pairs, whole):

@@ -30,7 +30,12 @@ def is_entry(keys, value):
     """Whether value is an entry for these keys."""
     if not is_row(value, 3, 3) or not are_sought(keys, value[0]) or not is_name(value[1]):
         return False
-    return is_row(value[2], 0, MOST_ARGS) and all([is_word(word, WORD_WIDTH) for word in value[2]])
+    return are_args(value[2])
+
+
+def are_args(value):
+    """Whether value is what an entry may tell behind its action."""
+    return is_row(value, 0, MOST_ARGS) and all([is_word(word, WORD_WIDTH) for word in value])
 
 
 def hit_by(keys, entries, words):

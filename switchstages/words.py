@@ -56,9 +56,9 @@ def is_text_of(value, texts):
     return isinstance(value, str) and value in texts
 
 
-def are_unlike(texts):
-    """Whether no two of these texts are the same."""
-    return len(set(texts)) == len(texts)
+def are_unlike(parts):
+    """Whether no two of these texts, or of these numbers, are the same."""
+    return len(set(parts)) == len(parts)
 
 
 def names_in(parts):

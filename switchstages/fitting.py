@@ -1,0 +1,127 @@
+"""Layouts on a chip: what each stage has to hold, whether it can, and layouts tried until one fits."""
+
+from switchstages.leanings import early_stages, least_stage, rules_of
+from switchstages.wishes import wish_broken
+
+MOST_STAGES = 64
+
+
+def spans_of_boxes(plan, stages, first):
+    """Of each made box that lives at all: the first and the last stage at whose beginning it does."""
+    spans = {}
+    for box in range(first, len(plan.writers)):
+        askers = [index for index, guard in enumerate(plan.guards) if box in guard]
+        written = [stages[index] for index in plan.writers[box]]
+        asked = [stages[index] for index in plan.readers[box] + askers]
+        if written and asked and min(written) < max(asked):
+            spans[box] = (min(written) + 1, max(asked))
+    return spans
+
+
+def living_at(spans, stage):
+    """The boxes that live at the beginning of a stage, ascending."""
+    return [box for box, (begin, last) in spans.items() if begin <= stage <= last]
+
+
+def looked_up(program, plan):
+    """Of each look, by its index, the room of its table."""
+    return {index: program[6][unit[1]][4] for index, unit in enumerate(plan.units) if unit[0] == "look"}
+
+
+def over_in(program, plan, made, stages, chip):
+    """The first thing of which a stage wants more than the chip has; None if there is none."""
+    many, most_units, most_looks, most_room, most_bits = chip
+    rooms = looked_up(program, plan)
+    spans = spans_of_boxes(plan, stages, first_made(program))
+    beyond = [stage for stage in stages if stage >= many]
+    if beyond:
+        return ("stages", min(beyond))
+    used = sorted(set(stages))
+    for stage in used:
+        if stages.count(stage) > most_units:
+            return ("units", stage)
+    for stage in used:
+        if len(rooms_at(rooms, stages, stage)) > most_looks:
+            return ("looks", stage)
+    for stage in used:
+        if sum(rooms_at(rooms, stages, stage)) > most_room:
+            return ("room", stage)
+    for stage in range(many):
+        if sum([made[0][box] for box in living_at(spans, stage)]) > most_bits:
+            return ("bits", stage)
+    return None
+
+
+def first_made(program):
+    """The index of the first made box: how many boxes the program has."""
+    return 3 + len(program[1]) + sum([1 + len(fields) for _, fields in program[0]])
+
+
+def rooms_at(rooms, stages, stage):
+    """The room of each look in a stage."""
+    return [room for index, room in rooms.items() if stages[index] == stage]
+
+
+def fitted_stages(program, plan, made, wanted, most):
+    """The stages of a layout that fits, wanted being its gap and the chip; None if none of so many tries does."""
+    gap, chip = wanted
+    floors = [0] * len(plan.units)
+    for at in range(most):
+        # The early layout is tried first, then ones that keep to what the chip's stages may have.
+        stages = early_stages(plan) if at == 0 else stages_above(program, plan, chip, floors)
+        if stages is None:
+            return None
+        if max(stages + [0]) < MOST_STAGES and wish_broken(plan, gap, stages) is None:
+            if over_in(program, plan, made, stages, chip) is None:
+                return stages
+        if at > 0:
+            raised = floors_raised(program, plan, made, (gap, chip), stages, floors)
+            if raised == floors:
+                return None
+            floors = raised
+    return None
+
+
+def stages_above(program, plan, chip, floors):
+    """The least stages from the floors on by the rules, so that no stage has too much; None if the chip is too short."""
+    many, most_units, most_looks, most_room, _ = chip
+    rooms = looked_up(program, plan)
+    left = [[most_units, most_looks, most_room] for _ in range(many)]
+    stages = []
+    for index, rule in enumerate(rules_of(plan)):
+        wants = [1, 1, rooms[index]] if index in rooms else [1, 0, 0]
+        stage = max(least_stage(rule, stages), floors[index])
+        while stage < many and any([have < want for have, want in zip(left[stage], wants)]):
+            stage = stage + 1
+        if stage >= many:
+            return None
+        left[stage] = [have - want for have, want in zip(left[stage], wants)]
+        stages.append(stage)
+    return stages
+
+
+def floors_raised(program, plan, made, wanted, stages, floors):
+    """Floors for the next try: touches nearer to the last one, or later writers of what lives in a full stage."""
+    gap, chip = wanted
+    raised = list(floors)
+    for touches in plan.touches:
+        for index in touches:
+            raised[index] = max(raised[index], max([stages[other] for other in touches]) - gap + 1)
+    found = over_in(program, plan, made, stages, chip)
+    if raised != floors or found is None or found[0] != "bits":
+        return raised
+    spans = spans_of_boxes(plan, stages, first_made(program))
+    living = [index for box in living_at(spans, found[1]) for index in plan.writers[box]]
+    # What nobody needs ahead of the full stage can as well be written in it.
+    for index in [index for index in living if stages[index] < found[1] and is_late_enough(plan, stages, index, found)]:
+        raised[index] = max(raised[index], found[1])
+        if raised != floors:
+            break
+    return raised
+
+
+def is_late_enough(plan, stages, index, found):
+    """Whether nobody behind reads or asks what a unit writes ahead of a stage that has too much, told with it."""
+    users = [other for box in plan.writes[index] for other in plan.readers[box] if other > index]
+    users = users + [other for other, guard in enumerate(plan.guards) if any([box in guard for box in plan.writes[index]])]
+    return all([stages[other] > found[1] for other in users])

@@ -1,0 +1,110 @@
+"""Made programs as they are laid: who writes, reads and touches what, under which guards, and in which ways."""
+
+from switchstages.made import atom_written, boxes_read, boxes_written, guard_of, worths_of
+
+MOST_WAYS = 16384
+
+
+class Plan:
+    """The units of a made program, by their indexes: guards as dicts, reads, and who writes, reads, touches what."""
+
+    def __init__(self, program, made):
+        widths, self.units = made
+        self.guards = [{atom: worth for atom, worth in guard_of(unit)} for unit in self.units]
+        self.reads = [boxes_read(unit) for unit in self.units]
+        self.writes = [boxes_written(unit) for unit in self.units]
+        self.readers = [[] for _ in widths]
+        self.writers = [[] for _ in widths]
+        self.touches = [[] for _ in program[4]]
+        # Of each atom its worths, ascending, and the unit that writes it.
+        self.worths = {}
+        self.makers = {}
+        for index, unit in enumerate(self.units):
+            for box in self.reads[index]:
+                self.readers[box].append(index)
+            for box in self.writes[index]:
+                self.writers[box].append(index)
+            if unit[0] == "touch":
+                self.touches[unit[2]].append(index)
+            atom = atom_written(unit)
+            if atom is not None:
+                least, most = worths_of(program, unit)
+                self.worths[atom] = list(range(least, most + 1))
+                self.makers[atom] = index
+
+
+def atoms_asked(plan, indexes):
+    """The atoms of the guards of these units, ascending."""
+    return sorted(set([atom for index in indexes for atom in plan.guards[index]]))
+
+
+def how_many_ways(plan, atoms):
+    """How many ways these atoms have together."""
+    many = 1
+    for atom in atoms:
+        many = many * len(plan.worths[atom])
+    return many
+
+
+def most_ways(plan):
+    """How many ways the atoms that matter for one wish have together at most."""
+    many = [how_many_ways(plan, atoms_asked(plan, touches)) for touches in plan.touches]
+    for writers, readers in zip(plan.writers, plan.readers):
+        asked = atoms_asked(plan, writers)
+        many.append(how_many_ways(plan, asked))
+        for index in readers:
+            others = [atom for atom in plan.guards[index] if atom not in asked]
+            many.append(how_many_ways(plan, asked + others))
+    return max(many)
+
+
+def joined(one, other):
+    """The guard that asks what both ask; None if they ask one atom for different worths."""
+    both = {atom: worth for atom, worth in one.items()}
+    for atom, worth in other.items():
+        if both.get(atom, worth) != worth:
+            return None
+        both[atom] = worth
+    return both
+
+
+def are_active_together(plan, one, other):
+    """Whether both units are active in some way."""
+    return joined(plan.guards[one], plan.guards[other]) is not None
+
+
+def is_met(fixed, guard):
+    """Whether a guard holds in each way that has these worths."""
+    return all([fixed.get(atom) == worth for atom, worth in guard.items()])
+
+
+def is_missed(fixed, guard):
+    """Whether a guard holds in no way that has these worths."""
+    return any([fixed.get(atom, worth) != worth for atom, worth in guard.items()])
+
+
+def with_worth(fixed, atom, worth):
+    """These worths and that of one more atom."""
+    more = {other: known for other, known in fixed.items()}
+    more[atom] = worth
+    return more
+
+
+def can_miss(plan, fixed, guards):
+    """Whether some way that has these worths misses all of these guards."""
+    near = [guard for guard in guards if not is_missed(fixed, guard)]
+    if not near:
+        return True
+    free = [atom for atom in near[0] if atom not in fixed]
+    for atom in free:
+        # One of its atoms has to be of another worth; those tried ahead need not be tried again.
+        for worth in plan.worths[atom]:
+            if worth != near[0][atom] and can_miss(plan, with_worth(fixed, atom, worth), near[1:]):
+                return True
+        fixed = with_worth(fixed, atom, near[0][atom])
+    return False
+
+
+def way_told(plan, fixed, atoms):
+    """The least way over these atoms, which ascend, that has these worths."""
+    return tuple([(atom, fixed.get(atom, plan.worths[atom][0])) for atom in atoms])
