@@ -83,7 +83,7 @@ def fitted_stages(program, plan, made, wanted, most):
 
 
 def stages_above(program, plan, chip, floors):
-    """The least stages from the floors on by the rules, so that no stage has too much; None if the chip is too short."""
+    """The least stages from the floors on by the rules, no stage having too much; None if the chip is too short."""
     many, most_units, most_looks, most_room, _ = chip
     rooms = looked_up(program, plan)
     left = [[most_units, most_looks, most_room] for _ in range(many)]
@@ -110,18 +110,20 @@ def floors_raised(program, plan, made, wanted, stages, floors):
     found = over_in(program, plan, made, stages, chip)
     if raised != floors or found is None or found[0] != "bits":
         return raised
+    full = found[1]
     spans = spans_of_boxes(plan, stages, first_made(program))
-    living = [index for box in living_at(spans, found[1]) for index in plan.writers[box]]
-    # What nobody needs ahead of the full stage can as well be written in it.
-    for index in [index for index in living if stages[index] < found[1] and is_late_enough(plan, stages, index, found)]:
-        raised[index] = max(raised[index], found[1])
-        if raised != floors:
+    for index in [writer for box in living_at(spans, full) for writer in plan.writers[box]]:
+        # What nobody needs ahead of the full stage can as well be written in it.
+        if stages[index] < full and min([stages[other] for other in users_of(plan, index)] + [MOST_STAGES]) > full:
+            raised[index] = full
             break
     return raised
 
 
-def is_late_enough(plan, stages, index, found):
-    """Whether nobody behind reads or asks what a unit writes ahead of a stage that has too much, told with it."""
-    users = [other for box in plan.writes[index] for other in plan.readers[box] if other > index]
-    users = users + [other for other, guard in enumerate(plan.guards) if any([box in guard for box in plan.writes[index]])]
-    return all([stages[other] > found[1] for other in users])
+def users_of(plan, index):
+    """The units behind that read, or ask, what the unit with this index writes."""
+    boxes = plan.writes[index]
+    return [
+        other for other, guard in enumerate(plan.guards)
+        if other > index and any([box in guard or box in plan.reads[other] for box in boxes])
+    ]

@@ -4,10 +4,12 @@ import importlib
 import inspect
 import unittest
 
-from switchstages import headers, parsers, programs, tables, texts, ways
+from switchstages import headers, keyforms, layouts, parsers, programs, ranges, tables, texts, units, ways
 from switchstages.errors import StageError
 from tests.samples import FRAME, HEADERS, JUNK
 from tests.small import FILLED, NONE, SMALL
+from tests.test_keyforms import FORM
+from tests.test_layouts import CHIP, LAID, MADE
 from tests.test_tables import KEYS, THREE
 
 FILLING = (7, 0, 0, 0, 1, 0, 9, 0, 0)
@@ -24,8 +26,17 @@ CALLS = [
     (texts.show_program, [SMALL]), (texts.read_program, [texts.show_program(SMALL)]),
     (texts.show_contents, [SMALL, FILLED]), (texts.read_contents, [SMALL, texts.show_contents(SMALL, FILLED)]),
     (tables.hit_by, [KEYS, THREE, (1, 1)]), (tables.told_by, [KEYS, THREE, (1, 1)]), (tables.idle_in, [KEYS, THREE]),
-    (tables.without_idle, [KEYS, THREE]),
+    (tables.without_idle, [KEYS, THREE]), (keyforms.form_of, [KEYS, THREE]),
+    (keyforms.form_tells, [KEYS, FORM, (1, 3)]), (keyforms.parting, [KEYS, THREE, THREE[:1]]),
+    (ranges.prefixes_of, [4, 3, 12]), (ranges.spread, [KEYS, THREE]), (units.units_of, [SMALL]),
+    (units.reads_of, [SMALL, MADE, 7]), (units.writes_of, [SMALL, MADE, 0]), (units.atoms_of, [SMALL, MADE]),
+    (units.done, [SMALL, FILLED, MADE, NONE, FILLING]), (layouts.wrong_in, [SMALL, MADE, LAID]),
+    (layouts.leans_on, [SMALL, MADE, 7]), (layouts.early, [SMALL, MADE]), (layouts.lives, [SMALL, MADE, LAID, 2]),
+    (layouts.over, [SMALL, MADE, LAID, CHIP]), (layouts.fitted, [SMALL, MADE, 1, CHIP, 1]),
 ]
+
+# Values that are right there, though they are nothing in other places.
+RIGHT_TOO = {"contents": [((),)], "entries": [()], "others": [()], "form": [None]}
 
 LISTED = {
     "headers": {
@@ -55,6 +66,25 @@ LISTED = {
         "is_keys": ["value"], "are_entries": ["keys", "value"], "hit_by": ["keys", "entries", "words"],
         "told_by": ["keys", "entries", "words"], "idle_in": ["keys", "entries"], "without_idle": ["keys", "entries"],
     },
+    "keyforms": {
+        "form_of": ["keys", "entries"], "form_tells": ["keys", "form", "words"],
+        "parting": ["keys", "entries", "others"],
+    },
+    "ranges": {
+        "prefixes_of": ["width", "low", "high"], "are_marks": ["width", "low", "high", "value"],
+        "spread": ["keys", "entries"],
+    },
+    "units": {
+        "units_of": ["program"], "is_made": ["program", "value"], "reads_of": ["program", "made", "unit"],
+        "writes_of": ["program", "made", "unit"], "atoms_of": ["program", "made"],
+        "done": ["program", "contents", "made", "cells", "filling"],
+    },
+    "layouts": {
+        "is_layout": ["program", "made", "value"], "is_chip": ["value"], "wrong_in": ["program", "made", "layout"],
+        "leans_on": ["program", "made", "unit"], "early": ["program", "made"],
+        "lives": ["program", "made", "layout", "stage"], "over": ["program", "made", "layout", "chip"],
+        "fitted": ["program", "made", "gap", "chip", "most"],
+    },
 }
 
 
@@ -79,9 +109,10 @@ class InterfaceTest(unittest.TestCase):
         calls = [
             (headers.are_headers, []), (headers.is_packet, []), (parsers.is_frame, []), (programs.is_program, []),
             (programs.is_contents, [SMALL]), (programs.is_cells, [SMALL]), (tables.is_keys, []),
-            (tables.are_entries, [KEYS]),
+            (tables.are_entries, [KEYS]), (ranges.are_marks, [4, 3, 12]), (units.is_made, [SMALL]),
+            (layouts.is_layout, [SMALL, MADE]), (layouts.is_chip, []),
         ]
-        for value in JUNK + [HEADERS, FRAME, (1, (2,)), (), SMALL, FILLED, NONE, KEYS, THREE]:
+        for value in JUNK + [HEADERS, FRAME, (1, (2,)), (), SMALL, FILLED, NONE, KEYS, THREE, MADE, LAID, CHIP, (3, 4)]:
             for call, ahead in calls:
                 self.assertIsInstance(call(*ahead, value), bool)
                 self.assertIs(call(*ahead, value), call(*ahead, value=value))
@@ -90,8 +121,8 @@ class InterfaceTest(unittest.TestCase):
         for call, right in CALLS:
             call(*right)
             for at in range(len(right)):
-                # One of these values is contents of the small program.
-                for value in [value for value in JUNK if value != ((),)]:
+                also = RIGHT_TOO.get(inspect.getfullargspec(call).args[at], [])
+                for value in [value for value in JUNK if value not in also]:
                     with self.assertRaises(StageError):
                         call(*right[:at], value, *right[at + 1:])
 
