@@ -52,6 +52,15 @@ def over_in(program, plan, made, stages, chip):
     return None
 
 
+def too_much_for(program, plan, chip):
+    """Of what the units want more than all stages of a chip have together: units, looks, room."""
+    many, most_units, most_looks, most_room, _ = chip
+    rooms = looked_up(program, plan)
+    wanted = (("units", len(plan.units), most_units), ("looks", len(rooms), most_looks),
+        ("room", sum(rooms.values()), most_room))
+    return [kind for kind, want, have in wanted if want > many * have]
+
+
 def first_made(program):
     """The index of the first made box: how many boxes the program has."""
     return 3 + len(program[1]) + sum([1 + len(fields) for _, fields in program[0]])

@@ -42,6 +42,11 @@ def wrong_in(program, made, layout):
     return wish_broken(plan, layout[0], layout[1])
 
 
+def is_right(plan, layout):
+    """Whether a layout is taken for a right one: it keeps all wishes, and no wish has too many ways."""
+    return most_ways(plan) <= MOST_WAYS and wish_broken(plan, layout[0], layout[1]) is None
+
+
 def leans_on(program, made, unit):
     """The units on which the unit with this index leans, ascending."""
     check_unit(program, made, unit)
@@ -53,6 +58,11 @@ def leans_on(program, made, unit):
 def early(program, made):
     """The early layout."""
     check_made(program, made)
+    return early_of(program, made)
+
+
+def early_of(program, made):
+    """What early tells, both parameters being right."""
     plan = Plan(program, made)
     check_ways(plan)
     stages = early_stages(plan)

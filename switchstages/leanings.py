@@ -1,13 +1,15 @@
 """On which units a unit leans, and behind which ones it is put."""
 
-from switchstages.plans import are_active_together, can_miss, joined
+from switchstages.plans import are_active_together, joined, missing_all
 
 
 def leaned_on(plan, index):
     """The units on which the unit with this index leans, ascending."""
     found = [plan.makers[atom] for atom in plan.guards[index]]
     for box in plan.reads[index]:
-        found.extend([other for other in plan.writers[box] if is_source(plan, index, box, other)])
+        found.extend([
+            other for other in plan.writers[box] if worths_of_source(plan, index, box, other) is not None
+        ])
     for touches in plan.touches:
         if index in touches:
             found.extend([other for other in ahead_of(index, touches) if are_active_together(plan, index, other)])
@@ -19,14 +21,15 @@ def ahead_of(index, others):
     return [other for other in others if other < index]
 
 
-def is_source(plan, index, box, other):
-    """Whether in some way in which both units are active the other one is the source of a box for this one."""
+def worths_of_source(plan, index, box, other):
+    """Worths by which both units are active and the other one is the source of a box for this one; None for none."""
     if other >= index:
-        return False
+        return None
     both = joined(plan.guards[index], plan.guards[other])
     if both is None:
-        return False
-    return can_miss(plan, both, [plan.guards[between] for between in plan.writers[box] if other < between < index])
+        return None
+    between = [plan.guards[writer] for writer in plan.writers[box] if other < writer < index]
+    return missing_all(plan, both, between)
 
 
 def writers_ahead(plan, index):

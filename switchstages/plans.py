@@ -90,19 +90,20 @@ def with_worth(fixed, atom, worth):
     return more
 
 
-def can_miss(plan, fixed, guards):
-    """Whether some way that has these worths misses all of these guards."""
+def missing_all(plan, fixed, guards):
+    """Worths of atoms, these among them, by which all of these guards are missed; None if there are none."""
     near = [guard for guard in guards if not is_missed(fixed, guard)]
     if not near:
-        return True
-    free = [atom for atom in near[0] if atom not in fixed]
-    for atom in free:
+        return fixed
+    for atom in [asked for asked in near[0] if asked not in fixed]:
         # One of its atoms has to be of another worth; those tried ahead need not be tried again.
         for worth in plan.worths[atom]:
-            if worth != near[0][atom] and can_miss(plan, with_worth(fixed, atom, worth), near[1:]):
-                return True
+            if worth != near[0][atom]:
+                found = missing_all(plan, with_worth(fixed, atom, worth), near[1:])
+                if found is not None:
+                    return found
         fixed = with_worth(fixed, atom, near[0][atom])
-    return False
+    return None
 
 
 def way_told(plan, fixed, atoms):

@@ -70,6 +70,11 @@ def widths_of(program):
 def first_cells(program):
     """The cells at first."""
     check_program(program)
+    return cells_at_first(program)
+
+
+def cells_at_first(program):
+    """What first_cells tells, program being one."""
     return tuple([(0,) * many for _, _, many in program[4]])
 
 
@@ -85,6 +90,11 @@ def worked_all(program, contents, cells, packets):
     """The outcomes of packets that are worked one behind the other, and the last cells."""
     check_begun(program, contents, cells)
     check_packets(packets)
+    return worked_in_row(program, contents, cells, packets)
+
+
+def worked_in_row(program, contents, cells, packets):
+    """What worked_all tells, all of its parameters being right."""
     run = Run(program, contents, cells)
     return tuple([outcome_of(program, run, packet) for packet in packets]), cells_left(run)
 
@@ -94,6 +104,11 @@ def behind(program, contents, cells, filling):
     check_begun(program, contents, cells)
     if not is_filling(box_widths(program[0], program[1]), filling):
         raise InvalidFilling(filling)
+    return left_behind(program, contents, cells, filling)
+
+
+def left_behind(program, contents, cells, filling):
+    """What behind tells, all of its parameters being right."""
     run = Run(program, contents, cells)
     return run_control(run, filling), cells_left(run)
 

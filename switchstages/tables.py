@@ -23,7 +23,19 @@ def is_pair(value):
 def are_entries(keys, value):
     """Whether value is entries for these keys, whatever it is."""
     check_keys(keys)
+    return are_entries_for(keys, value)
+
+
+def are_entries_for(keys, value):
+    """Whether value is entries for these keys, which are right."""
     return is_row(value, 0, MOST_ENTRIES) and all([is_entry(keys, entry) for entry in value])
+
+
+def are_words_of(keys, value):
+    """Whether value is a word for each of these keys."""
+    if not is_row(value, len(keys), len(keys)):
+        return False
+    return all([is_word(word, width) for word, (_, width) in zip(value, keys)])
 
 
 def is_entry(keys, value):

@@ -35,6 +35,11 @@ def read_contents(program, writing):
     """The contents of a program that a writing tells."""
     check_program(program)
     check_writing(writing)
+    return contents_read(program, writing)
+
+
+def contents_read(program, writing):
+    """What read_contents tells, program being one and writing a text."""
     contents = read_whole_contents(Reader(writing), program[6])
     if not are_contents(program, contents):
         raise InvalidWriting(None)

@@ -14,11 +14,21 @@ def units_of(program):
     """The units made of a program, and the widths of their boxes."""
     check_program(program)
     made = made_of(program)
+    check_small(made)
+    return made
+
+
+def is_small_enough(made):
+    """Whether there are not too many units or boxes."""
+    return len(made[1]) <= MOST_UNITS and len(made[0]) <= MOST_BOXES
+
+
+def check_small(made):
+    """Raise the error of too many units, or else of too many boxes."""
     if len(made[1]) > MOST_UNITS:
         raise TooMany(len(made[1]))
     if len(made[0]) > MOST_BOXES:
         raise TooMany(len(made[0]))
-    return made
 
 
 def is_made(program, value):

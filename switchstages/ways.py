@@ -32,11 +32,7 @@ def dead_states(frame):
 def lost(frame):
     """An accepted packet that does not come back; None if all of them do."""
     check_frame(frame)
-    for way in ways_taken(frame):
-        packet = packet_lost(frame, way)
-        if packet is not None:
-            return packet
-    return None
+    return lost_among(frame)
 
 
 def does_lead(frame, state, word):
@@ -112,6 +108,23 @@ def packet_with(frame, way, wanted):
     for name, fields in headers_read(frame, way):
         taken = taken + bytes_from((name, fields), [words.get(("field", name, field), 0) for field, _ in fields])
     return words.get(LOCAL_IN, 0), taken
+
+
+def lost_among(frame):
+    """What lost tells, frame being one."""
+    for way in ways_taken(frame):
+        packet = packet_lost(frame, way)
+        if packet is not None:
+            return packet
+    return None
+
+
+def packet_to(frame, name):
+    """A packet that comes to the state of this name; None if none does."""
+    for row in rows_taken(frame):
+        if row[-1] == name:
+            return packet_with(frame, row, {})
+    return None
 
 
 def packet_lost(frame, way):

@@ -85,3 +85,22 @@ def are_words_for(sized, value):
     if not is_row(value, len(sized), len(sized)):
         return False
     return all([is_word(word, width) for (_, width), word in zip(sized, value)])
+
+
+def is_nothing(value):
+    """Whether value is the empty row."""
+    return is_row(value, 0, 0)
+
+
+def is_same(value, told):
+    """Whether value, whatever it is, is what is told: rows of numbers, texts and None."""
+    # To Python, True is 1; here it is not.
+    if isinstance(told, tuple):
+        if not is_row(value, len(told), len(told)):
+            return False
+        return all([is_same(part, other) for part, other in zip(value, told)])
+    if told is None:
+        return value is None
+    if isinstance(told, int):
+        return is_number(value, told, told)
+    return isinstance(value, str) and value == told
