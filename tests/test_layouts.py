@@ -92,7 +92,8 @@ class LayoutsTest(unittest.TestCase):
         guarded = [*asks(2), ("set", ((6, 1),), 1, ONE), ("set", ((7, 1),), 1, ONE)]
         made = made_of(guarded, (1, 1))
         for stages, told in [
-            ((0, 0, 1, 2), None), ((0, 0, 0, 2), ("late", 2, 6)), ((1, 0, 1, 2), ("late", 2, 6)), ((0, 3, 1, 2), ("late",
+            ((0, 0, 1, 2), None), ((0, 0, 0, 2), ("late", 2, 6)), ((1, 0, 1, 2), ("late", 2, 6)),
+                ((0, 3, 1, 2), ("late",
                 3, 7)), ((0, 0, 1, 1), ("once", ((6, 1), (7, 1)), 2, 3)), ((0, 0, 2, 1), ("source", ((6, 1), (7, 1)), 4,
                 1, 3, 2)),
         ]:
@@ -201,7 +202,8 @@ class LayoutsTest(unittest.TestCase):
                 told = wrong_in(BASE, made, (1, stages[:15] + (2, 1)))
                 self.assertEqual(told, ("source", tuple((6 + at, 1) for at in range(14)), 17, 1, 16, 15))
         # What is wrong is told ahead of too many ways, whatever it is.
-        for call, right, names in [(wrong_in, [(1, stages)], [0]), (lives, [(1, stages), 1], [0, 1]), (over, [(1, stages),
+        for call, right, names in [(wrong_in, [(1, stages)], [0]), (lives, [(1, stages), 1], [0, 1]),
+            (over, [(1, stages),
             CHIP], [0, 1]), (fitted, [1, CHIP, 0], [0, 1, 2]), (leans_on, [16], [0])]:
             for at in names:
                 with self.assertRaises((InvalidLayout, InvalidNumber, InvalidChip)):
@@ -258,9 +260,12 @@ class LayoutsTest(unittest.TestCase):
         for value in [(1, stages), (16, (63,) * 11), (5, (0,) * 11)]:
             self.assertIs(is_layout(SMALL, MADE, value), True)
         for value in [
-            (0, stages), (17, stages), (True, stages), (None, stages), ("1", stages), (1, stages[:10]), (1, stages + (0,)),
-            (1, list(stages)), [1, stages], (1, stages[:10] + (64,)), (1, (-1,) + stages[1:]), (1, (True,) + stages[1:]),
-            (1, (None,) + stages[1:]), (1,), (1, stages, 1), stages, (stages, 1), (1, ()), (1, None), (10 ** 399, stages),
+            (0, stages), (17, stages), (True, stages), (None, stages), ("1", stages), (1, stages[:10]),
+                (1, stages + (0,)),
+            (1, list(stages)), [1, stages], (1, stages[:10] + (64,)), (1, (-1,) + stages[1:]),
+                (1, (True,) + stages[1:]),
+            (1, (None,) + stages[1:]), (1,), (1, stages, 1), stages, (stages, 1), (1, ()), (1, None),
+                (10 ** 399, stages),
         ] + JUNK:
             self.assertIs(is_layout(SMALL, MADE, value), False)
             assert_raises(self, InvalidLayout, "given", value, wrong_in, SMALL, MADE, value)
@@ -280,7 +285,8 @@ class LayoutsTest(unittest.TestCase):
         for value in JUNK + [CHIP[:4], CHIP + (0,), list(CHIP)]:
             self.assertIs(is_chip(value=value), False)
             assert_raises(self, InvalidChip, "given", value, over, SMALL, MADE, LAID, value)
-            assert_raises(self, InvalidChip, "given", value, fitted, most=None, chip=value, gap=1, made=MADE, program=SMALL)
+            assert_raises(self, InvalidChip, "given", value, fitted, most=None, chip=value, gap=1, made=MADE,
+                program=SMALL)
 
     def test_what_is_over_kind_by_kind(self):
         looks = [("look", 0, (ONE, ONE), 6, (7, 8)), ("look", 2, (ONE,), 9, ()), ("look", 1, (ONE,), 10, (11,)),
@@ -298,7 +304,8 @@ class LayoutsTest(unittest.TestCase):
             [(), (), (6, 10, 11), (6, 10, 11), (6, 10, 11), ()])
 
     def test_boxes_live_from_behind_their_writer_to_their_last_reader(self):
-        units = [("set", (), 6, ONE), ("set", (), 1, ("box", 6)), ("set", (), 4, ("box", 6)), ("set", (), 6, ("box", 1))]
+        units = [("set", (), 6, ONE), ("set", (), 1, ("box", 6)), ("set", (), 4, ("box", 6)),
+            ("set", (), 6, ("box", 1))]
         made = made_of(units, (9, 9))
         for stage in range(64):
             self.assertEqual(lives(BASE, made, (1, (5, 7, 10, 63)), stage), (6,) if 6 <= stage <= 10 else ())

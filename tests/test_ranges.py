@@ -69,7 +69,8 @@ class RangesTest(unittest.TestCase):
                     self.assertIs(are_marks(3, low, high, value), right and max(held) < 2, (low, high, value))
 
     def test_what_is_no_marks(self):
-        for value in [[3, 4], (3, 3), (4, 3), (2, 3), (12, 13), (True,), (3, None), (3, "4"), ((3,),), (3, 4, 8, 12, 12),
+        for value in [[3, 4], (3, 3), (4, 3), (2, 3), (12, 13), (True,), (3, None), (3, "4"), ((3,),),
+            (3, 4, 8, 12, 12),
             (3, 4, 5), (4, 7), (8, 11), 3, None, "34", (3, 4, 8, 9), (3, -1), (10 ** 399,), {3: 4}]:
             self.assertIs(are_marks(4, 3, 12, value), False, value)
         for value in [(), (3,), (12,), (5, 9), (3, 12), (7, 8), (3, 6, 10, 12)]:

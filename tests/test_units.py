@@ -270,7 +270,8 @@ class DoneTest(unittest.TestCase):
             for value in values:
                 assert_raises(self, error, "given", value, done, *right[:at], value, *[None] * (4 - at))
                 names = ("program", "contents", "made", "cells", "filling")
-                assert_raises(self, error, "given", value, done, **dict(zip(names, right[:at] + [value] + right[at + 1:])))
+                assert_raises(self, error, "given", value, done,
+                    **dict(zip(names, right[:at] + [value] + right[at + 1:])))
         self.assertEqual(done(*right), done(filling=FIRST, cells=NONE, made=made, contents=FILLED, program=SMALL))
 
 
@@ -338,7 +339,8 @@ class MadeTest(unittest.TestCase):
         for part in [("box", 0), ("box", 6), ("word", 0), ("word", 4294967295)]:
             self.assert_made(True, ("set", (), 1, part), widths=(1,))
         for part in [("box", 7), ("box", -1), ("box", True), ("box", None), ("word", 4294967296), ("word", -1),
-            ("word", True), ("word",), ("word", 1, 1), ["word", 1], 1, ("param", 1), ("Box", 1), (None, 1), ("box", "1"),
+            ("word", True), ("word",), ("word", 1, 1), ["word", 1], 1, ("param", 1), ("Box", 1), (None, 1),
+                ("box", "1"),
             ("local", "in"), ("held", "head")]:
             self.assert_made(False, ("set", (), 1, part), widths=(1,))
             self.assert_made(False, ("ask", 6, "not", ONE, part), widths=(1,))
@@ -354,7 +356,8 @@ class MadeTest(unittest.TestCase):
             self.assert_made(True, ("ask", 6, ask, ONE, ONE), widths=(1,))
         for ask in ("add", "Same", "and", None, ("same",), 1, "least"):
             self.assert_made(False, ("ask", 6, ask, ONE, ONE), widths=(1,))
-        for box, widths in [(6, (2,)), (6, (32,)), (5, (1,)), (2, (1,)), (4, (1,)), (7, (1,)), (True, (1,)), (-1, (1,))]:
+        for box, widths in [(6, (2,)), (6, (32,)), (5, (1,)), (2, (1,)), (4, (1,)), (7, (1,)), (True, (1,)),
+            (-1, (1,))]:
             self.assert_made(False, ("ask", box, "same", ONE, ONE), widths=widths)
         for op in ("add", "sub", "and", "or", "xor", "left", "right"):
             self.assert_made(True, ("reckon", 6, op, ONE, ONE), widths=(1,))
@@ -369,7 +372,8 @@ class MadeTest(unittest.TestCase):
             self.assert_made(False, ("look", 2, (ONE,), 6, ()), widths=(width,))
         two = (ONE, ONE)
         self.assert_made(True, ("look", 0, two, 8, (7, 6)), widths=(1, 1, 3))
-        for parts in [(0, two, 8, (7,)), (0, two, 8, (7, 6, 9)), (0, two, 8, (7, 7)), (0, two, 8, (8, 7)), (0, two, 8, (7,
+        for parts in [(0, two, 8, (7,)), (0, two, 8, (7, 6, 9)), (0, two, 8, (7, 7)), (0, two, 8, (8, 7)),
+            (0, two, 8, (7,
             5)), (0, two, 8, [7, 6]), (0, two, 8, (7, 10)), (0, (ONE,), 8, (7, 6)), (0, two + two, 8, (7, 6)), (0, list(
             two), 8, (7, 6)), (3, two, 8, (7, 6)), (-1, two, 8, (7, 6)), (True, (ONE,), 8, (7,)), (1, (ONE,), 8, ()),
             (1, (ONE,), 8, (7, 6)), (0, two, 8, (True, 6)), (None, two, 8, (7, 6)), ("first", two, 8, (7, 6))]:
@@ -415,7 +419,8 @@ class MadeTest(unittest.TestCase):
         one = ("look", 2, (ONE,), 18, ())
         widths = (1,) * 9 + (3, 1, 1, 3)
         units = [*asks, look, one]
-        right = [(), ((6, 0),), ((6, 1),), ((6, 1), (7, 0)), tuple((6 + at, 1) for at in range(8)), ((15, 1),), ((15, 3),),
+        right = [(), ((6, 0),), ((6, 1),), ((6, 1), (7, 0)), tuple((6 + at, 1) for at in range(8)), ((15, 1),),
+            ((15, 3),),
             ((14, 0), (15, 2), (18, 1))]
         wrong = [
             tuple((6 + at, 1) for at in range(9)), ((6, 2),), ((6, -1),), ((6, True),), ((6, False),), ((15, 0),),
