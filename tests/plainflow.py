@@ -2,6 +2,8 @@
 
 import copy
 
+from switchstages.tables import told_by
+
 OPS = {
     "add": lambda one, two: (one + two) % 2 ** 32, "sub": lambda one, two: (one - two) % 2 ** 32,
     "and": lambda one, two: one & two, "or": lambda one, two: one | two, "xor": lambda one, two: one ^ two,
@@ -90,8 +92,6 @@ class PlainFlow:
 
 def lookup_of(program, contents, widths):
     """Look up the contents of a program's tables; widths tells the width of each place."""
-    from switchstages.tables import told_by
-
     def lookup(index, words):
         _, table_keys, _, default, _ = program[6][index]
         keys = tuple((kind, widths[place]) for place, kind in table_keys)

@@ -4,12 +4,14 @@ import unittest
 
 from switchstages import certificates
 from switchstages.certificates import (
-    certify_back, certify_before, certify_done, certify_entry, certify_flow, certify_laid, certify_layout, certify_parse,
+    certify_back, certify_before, certify_done, certify_entry, certify_flow, certify_laid, certify_layout,
+        certify_parse,
     certify_prefixes, certify_read, certify_sent, certify_state, certify_tables, certify_way, certify_worked,
 )
 from switchstages.checker import accepts
 from switchstages.errors import (
-    InvalidCells, InvalidChip, InvalidComing, InvalidContents, InvalidEntries, InvalidFilling, InvalidFrame, InvalidKeys,
+    InvalidCells, InvalidChip, InvalidComing, InvalidContents, InvalidEntries, InvalidFilling, InvalidFrame,
+        InvalidKeys,
     InvalidLayout, InvalidNumber, InvalidPacket, InvalidPackets, InvalidProgram, InvalidUnits, InvalidWay, InvalidWord,
     InvalidWriting, NotShown, TooMany,
 )
@@ -18,7 +20,7 @@ from switchstages.keyforms import parting
 from switchstages.parsers import parse
 from switchstages.programs import worked_all
 from switchstages.ranges import prefixes_of
-from switchstages.tables import idle_in
+from switchstages.tables import hit_by, idle_in
 from switchstages.texts import show_program
 from switchstages.units import units_of
 from switchstages.ways import dead_states, lost, ways
@@ -52,7 +54,8 @@ NAMES = {
 RIGHT = [
     (certify_parse, [FRAME, (1, (7, 35))], "parsed"), (certify_parse, [FRAME, (1, (7,))], "refused"),
     (certify_back, [FRAME], "comes back"), (certify_back, [TURNED], "lost"),
-    (certify_way, [FRAME, ("start", "more", "accept")], "taken"), (certify_way, [FRAME, ("more", "accept")], "not taken"),
+    (certify_way, [FRAME, ("start", "more", "accept")], "taken"),
+        (certify_way, [FRAME, ("more", "accept")], "not taken"),
     (certify_state, [FRAME, 1], "come to"), (certify_state, [FRAME, 0], "come to"), (certify_state, [DEAD, 1], "dead"),
     (certify_read, [show_program(SMALL)], "read"), (certify_read, ["header base kind"], "not read"),
     (certify_worked, [SMALL, FILLED, NONE, PACKETS], "worked"), (certify_worked, [SMALL, FILLED, NONE, ()], "worked"),
@@ -67,7 +70,8 @@ RIGHT = [
     (certify_flow, [SMALL, FILLED, MADE, LAID, NONE, COMING], "flows"),
     (certify_flow, [TWO_TOUCHES, FILLED, TWO_MADE, (1, (0, 0)), NONE, COMING], "clashes"),
     (certify_before, [SMALL, MADE, 7, 4], "before"), (certify_before, [SMALL, MADE, 7, 3], "not before"),
-    (certify_laid, [SMALL, MADE, 1, CHIP, 1], "laid"), (certify_laid, [SMALL, MADE, 1, (3, 11, 1, 4, 99), 1], "not laid"),
+    (certify_laid, [SMALL, MADE, 1, CHIP, 1], "laid"), (certify_laid, [SMALL, MADE, 1, (3, 11, 1, 4, 99), 1],
+        "not laid"),
 ]
 
 
@@ -81,8 +85,10 @@ class CertificatesTest(unittest.TestCase):
     def test_the_examples(self):
         told = [certify_back(FRAME)[0][0], certify_back(TURNED)[0][0], certify_way(FRAME, ("more", "accept"))[0][0],
             certify_state(FRAME, 1)[0][0], certify_read("header base kind")]
-        self.assertEqual(told, ["comes back", "lost", "not taken", "come to", (("not read", "header base kind", 16), ())])
-        alike, parted = ("tell alike", KEYS, THREE, KEYS, THREE[:2]), ("part first", KEYS, THREE, KEYS, THREE[:1], (0, 2))
+        self.assertEqual(told, ["comes back", "lost", "not taken", "come to",
+            (("not read", "header base kind", 16), ())])
+        alike, parted = ("tell alike", KEYS, THREE, KEYS, THREE[:2]), ("part first", KEYS, THREE, KEYS, THREE[:1],
+            (0, 2))
         told = [certify_tables(KEYS, THREE, KEYS, THREE[:2]) == (alike, ROW),
             certify_tables(KEYS, THREE, KEYS, THREE[:1]) == (parted, ((4, 0),)), certify_entry(KEYS, THREE, 2)[1],
             certify_prefixes(4, 3, 12, 4)[0][0]]
@@ -109,14 +115,17 @@ class CertificatesTest(unittest.TestCase):
                 self.assertEqual(passed, tuple(args)[:len(passed)])
 
     def test_the_parts_of_claims(self):
-        self.assertEqual(certify_parse(FRAME, (1, (23, 35, 9))), (("parsed", FRAME, (1, (23, 35, 9)), ((23,), (1, 3)), (9,)),
+        self.assertEqual(certify_parse(FRAME, (1, (23, 35, 9))), (("parsed", FRAME, (1, (23, 35, 9)), ((23,), (1, 3)),
+            (9,)),
             ()))
         self.assertEqual(certify_worked(SMALL, FILLED, NONE, PACKETS)[0][5:], worked_all(SMALL, FILLED, NONE, PACKETS))
         self.assertEqual(certify_flow(SMALL, FILLED, MADE, LAID, NONE, COMING)[0][7:], THROUGH)
-        self.assertEqual(certify_flow(TWO_TOUCHES, FILLED, TWO_MADE, (1, (0, 0)), NONE, COMING)[0][7:], (0, ("register", 0)))
+        self.assertEqual(certify_flow(TWO_TOUCHES, FILLED, TWO_MADE, (1, (0, 0)), NONE, COMING)[0][7:],
+            (0, ("register", 0)))
         self.assertEqual(certify_done(SMALL, OTHER_MADE, FILLED, NONE, UNSENT), (("done otherwise", SMALL, OTHER_MADE),
             (FILLED, NONE, UNSENT)))
-        self.assertEqual(certify_sent(SMALL, HASTY, FILLED, NONE, ARRIVALS), (("sent otherwise", SMALL, HASTY), (FILLED, NONE,
+        self.assertEqual(certify_sent(SMALL, HASTY, FILLED, NONE, ARRIVALS),
+            (("sent otherwise", SMALL, HASTY), (FILLED, NONE,
             ARRIVALS)))
         self.assertEqual(certify_laid(SMALL, MADE, 1, CHIP, 1), (("laid", SMALL, MADE, 1, CHIP), LAID))
         self.assertEqual(certify_before(SMALL, MADE, 7, 4), (("before", SMALL, MADE, 7, 4), LAID))
@@ -128,7 +137,8 @@ class CertificatesTest(unittest.TestCase):
             frame = maker.frame()
             self.assertEqual(self.certified(certify_back, frame)[0], "comes back" if lost(frame) is None else "lost")
             packet = maker.packet()
-            self.assertEqual(self.certified(certify_parse, frame, packet)[0], "refused" if parse(frame, packet) is None else
+            self.assertEqual(self.certified(certify_parse, frame, packet)[0], "refused"
+                if parse(frame, packet) is None else
                 "parsed")
             for at, state in enumerate(frame[1]):
                 told = "dead" if state[0] in dead_states(frame) else "come to"
@@ -137,7 +147,8 @@ class CertificatesTest(unittest.TestCase):
                 self.assertEqual(self.certified(certify_way, frame, way)[0], "taken")
                 for other in [way[1:], way[:-2] + way[-1:], ("x",) + way]:
                     if 2 <= len(other) <= 9:
-                        self.assertEqual(self.certified(certify_way, frame, other)[0], "taken" if other in ways(frame) else
+                        self.assertEqual(self.certified(certify_way, frame, other)[0], "taken" if other
+                            in ways(frame) else
                             "not taken")
 
     def test_programs_read_and_worked(self):
@@ -197,7 +208,8 @@ class CertificatesTest(unittest.TestCase):
                 assert_given(self, 400, certify_tables, keys, last, keys, last)
                 # Those behind the first one that parts them, or looks it up, are not wanted.
                 other = ((((0, 0), 1), "b", ()),)
-                self.assertEqual(certify_tables(keys, last, keys, other), (("part first", keys, last, keys, other, (0, 1)),
+                self.assertEqual(certify_tables(keys, last, keys, other), (("part first", keys, last, keys, other,
+                    (0, 1)),
                     ((9, 0),)))
                 self.assertEqual(certify_entry(keys, last, 0), (("looked up", keys, last, 0), (0, 1)))
 
@@ -220,7 +232,6 @@ class CertificatesTest(unittest.TestCase):
 
     def pieces(self, keys, entries):
         """How many pieces are wanted, each one parted until its entries are settled word by word."""
-        from switchstages.tables import hit_by
         bits = sum(width for _, width in keys)
         width = keys[1][1]
         hits = [hit_by(keys, entries, (number >> width, number & (2 ** width - 1))) for number in range(2 ** bits)]
@@ -237,7 +248,8 @@ class CertificatesTest(unittest.TestCase):
         return found
 
     def test_prefixes(self):
-        for width, low, high in [(1, 0, 1), (1, 1, 1), (4, 3, 12), (5, 1, 30), (32, 1, 4294967294), (32, 0, 4294967295)]:
+        for width, low, high in [(1, 0, 1), (1, 1, 1), (4, 3, 12), (5, 1, 30), (32, 1, 4294967294),
+            (32, 0, 4294967295)]:
             least = len(prefixes_of(width, low, high))
             for many in (0, least - 1, least, least + 1, 64):
                 claim = self.certified(certify_prefixes, width, low, high, many)
@@ -310,10 +322,12 @@ class CertificatesTest(unittest.TestCase):
         self.assertEqual(certify_done(program, made, (), (), filling)[0][0], "done otherwise")
 
     def test_chains_for_chips(self):
-        self.assertEqual(certify_laid(TWICE, TWICE_MADE, 2, WIDE_CHIP, 1)[1], ("apart", ((0, None), (1, ("source", 9, ())), (2,
+        self.assertEqual(certify_laid(TWICE, TWICE_MADE, 2, WIDE_CHIP, 1)[1],
+            ("apart", ((0, None), (1, ("source", 9, ())), (2,
             ("source", 3, ())))))
         self.assertEqual(certify_laid(TWICE, TWICE_MADE, 3, WIDE_CHIP, 1)[0][0], "laid")
-        for chip, paper in [((5, 2, 1, 4, 99), ("units",)), ((5, 9, 0, 4, 99), ("looks",)), ((5, 9, 1, 0, 99), ("room",))]:
+        for chip, paper in [((5, 2, 1, 4, 99), ("units",)), ((5, 9, 0, 4, 99), ("looks",)),
+            ((5, 9, 1, 0, 99), ("room",))]:
             self.assertEqual(certify_laid(SMALL, MADE, 1, chip, 0), (("not laid", SMALL, MADE, 1, chip), paper))
         with self.assertRaises(NotShown):
             certify_laid(SMALL, MADE, 1, CHIP, 0)
@@ -352,7 +366,8 @@ class CertificatesTest(unittest.TestCase):
     def test_wrong_parameters(self):
         kinds = {
             "frame": (InvalidFrame, JUNK + [FRAME[:2]]), "packet": (InvalidPacket, JUNK + [(1, [7]), (256, ())]),
-            "way": (InvalidWay, JUNK + [("accept",), ("a", "refuse"), ["a", "accept"], ("a",) * 9 + ("accept",), (1, "accept"),
+            "way": (InvalidWay, JUNK + [("accept",), ("a", "refuse"), ["a", "accept"], ("a",) * 9 + ("accept",),
+                (1, "accept"),
                 ("a", "accept", None)]),
             "state": (InvalidNumber, JUNK + [-1, 64, True, None, "0"]),
             "writing": (InvalidWriting, [value for value in JUNK if not isinstance(value, str)]),
@@ -361,12 +376,14 @@ class CertificatesTest(unittest.TestCase):
             "packets": (InvalidPackets, [None, [], ((1, ()),) * 101]), "keys": (InvalidKeys, WRONG_KEYS + JUNK),
             "entries": (InvalidEntries, [None, [], THREE * 11]), "others": (InvalidEntries, [None, [], THREE * 11]),
             "other_keys": (InvalidKeys, WRONG_KEYS + JUNK + [KEYS[::-1], KEYS[:1], (("prefix", 3), ("mask", 3))]),
-            "index": (InvalidNumber, [-1, 3, True, None, "0"] + JUNK), "width": (InvalidNumber, [0, 33, True, None] + JUNK),
+            "index": (InvalidNumber, [-1, 3, True, None, "0"] + JUNK),
+                "width": (InvalidNumber, [0, 33, True, None] + JUNK),
             "low": (InvalidWord, [-1, 16, True, None] + JUNK), "high": (InvalidWord, [-1, 16, 2, True, None] + JUNK),
             "many": (InvalidNumber, [-1, 65, True, None] + JUNK), "made": (InvalidUnits, JUNK + [list(MADE), MADE[:1]]),
             "filling": (InvalidFilling, [None, FIRST[1:], list(FIRST)]),
             "layout": (InvalidLayout, JUNK + [(0, LAID[1]), (1, LAID[1][1:])]),
-            "arrivals": (InvalidPackets, [None, [], ARRIVALS[:1] * 21]), "coming": (InvalidComing, [None, [], COMING * 21]),
+            "arrivals": (InvalidPackets, [None, [], ARRIVALS[:1] * 21]),
+                "coming": (InvalidComing, [None, [], COMING * 21]),
             "unit": (InvalidNumber, [-1, 11, True, None] + JUNK), "stage": (InvalidNumber, [-1, 64, True, None] + JUNK),
             "gap": (InvalidNumber, [0, 17, True, None] + JUNK), "chip": (InvalidChip, JUNK + [list(CHIP), CHIP[:4]]),
             "most": (InvalidNumber, [-1, 201, True, None] + JUNK),
@@ -387,8 +404,10 @@ class CertificatesTest(unittest.TestCase):
 
     def test_indexes_of_wrong_parameters(self):
         one, other = ARRIVALS
-        for value, index in [((one, None), 1), ((other, one), 1), ((one, one), 1), (((-1, one[1]),), 0), (((1001, one[1]),),
-            0), (((True, one[1]),), 0), (((0, (7, [1])),), 0), (((0,),), 0), ((one, list(other)), 1), ((one, other + (1,)), 1)]:
+        for value, index in [((one, None), 1), ((other, one), 1), ((one, one), 1), (((-1, one[1]),), 0),
+            (((1001, one[1]),),
+            0), (((True, one[1]),), 0), (((0, (7, [1])),), 0), (((0,),), 0), ((one, list(other)), 1),
+                ((one, other + (1,)), 1)]:
             assert_raises(self, InvalidPackets, "index", index, certify_sent, SMALL, LAID, FILLED, NONE, value)
         assert_raises(self, InvalidPackets, "index", 1, certify_sent, SMALL, (2, LAID[1]), FILLED, NONE, ARRIVALS)
         self.assertEqual(certify_sent(SMALL, (2, LAID[1]), FILLED, NONE, (one, (2, other[1])))[0][0], "sent alike")

@@ -9,7 +9,7 @@ from switchstages.errors import (
 from switchstages.flows import flow, stand
 from switchstages.layouts import early, wrong_in
 from switchstages.programs import behind
-from switchstages.units import units_of
+from switchstages.units import done, units_of
 from tests.madeup import BASE, OWN, cases, laid_about
 from tests.makers import Maker
 from tests.plainflow import PlainFlow, lookup_of
@@ -90,7 +90,6 @@ class FlowTest(unittest.TestCase):
         self.assertGreater(many, 90)
 
     def test_right_layouts_of_made_up_units_are_as_done_plainly(self):
-        from switchstages.units import done
         many = 0
         for maker, made, told in cases(300, 10):
             layout = laid_about(maker, told)
