@@ -10,7 +10,7 @@ class Plan:
 
     def __init__(self, program, made):
         widths, self.units = made
-        self.guards = [{atom: worth for atom, worth in guard_of(unit)} for unit in self.units]
+        self.guards = [worths_asked(unit) for unit in self.units]
         self.reads = [boxes_read(unit) for unit in self.units]
         self.writes = [boxes_written(unit) for unit in self.units]
         self.readers = [[] for _ in widths]
@@ -31,6 +31,11 @@ class Plan:
                 least, most = worths_of(program, unit)
                 self.worths[atom] = list(range(least, most + 1))
                 self.makers[atom] = index
+
+
+def worths_asked(unit):
+    """The worths that the guard of a unit asks, by the atoms."""
+    return {atom: worth for atom, worth in guard_of(unit)}
 
 
 def atoms_asked(plan, indexes):

@@ -335,7 +335,8 @@ class ConsoleTest(unittest.TestCase):
         program = small_with(tables=(done, SMALL[6][0]), control=(("table", "done"),))
         console = said(fresh_console(), "program " + show_program(program))[0]
         self.assertEqual(said(console, "forms"), (console, "done\nways"))
-        line = "contents table done entry 1 to 9 then drop entry 2 to 8 then drop entry 9 to 9 then drop end table ways end"
+        line = "contents table done entry 1 to 9 then drop entry 2 to 8 then drop entry 9 to 9 then drop end"
+        line += " table ways end"
         told, answer = said(console, line)
         self.assertEqual([answer, said(told, "forms")[1]], ["kept", "done 1 2\nways"])
         alone = said(fresh_console(), "program " + show_program(small_with(tables=(done,), control=())))[0]

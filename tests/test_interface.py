@@ -4,10 +4,14 @@ import importlib
 import inspect
 import unittest
 
-from switchstages import headers, keyforms, layouts, parsers, programs, ranges, tables, texts, units, ways
+from switchstages import (
+    certificates, checker, console, flows, headers, keyforms, layouts, parsers, programs, ranges, tables, texts, units,
+    ways,
+)
 from switchstages.errors import StageError
 from tests.samples import FRAME, HEADERS, JUNK
 from tests.small import FILLED, NONE, SMALL
+from tests.test_flows import COMING
 from tests.test_keyforms import FORM
 from tests.test_layouts import CHIP, LAID, MADE
 from tests.test_tables import KEYS, THREE
@@ -33,10 +37,23 @@ CALLS = [
     (units.done, [SMALL, FILLED, MADE, NONE, FILLING]), (layouts.wrong_in, [SMALL, MADE, LAID]),
     (layouts.leans_on, [SMALL, MADE, 7]), (layouts.early, [SMALL, MADE]), (layouts.lives, [SMALL, MADE, LAID, 2]),
     (layouts.over, [SMALL, MADE, LAID, CHIP]), (layouts.fitted, [SMALL, MADE, 1, CHIP, 1]),
+    (flows.flow, [SMALL, FILLED, MADE, LAID, NONE, COMING]), (flows.stand,
+        [SMALL, FILLED, MADE, LAID, NONE, COMING, 2]),
+    (certificates.certify_parse, [FRAME, (1, (7, 35))]), (certificates.certify_back, [FRAME]),
+    (certificates.certify_way, [FRAME, ("start", "accept")]), (certificates.certify_state, [FRAME, 1]),
+    (certificates.certify_read, ["header"]), (certificates.certify_worked, [SMALL, FILLED, NONE, ((1, (7, 35)),)]),
+    (certificates.certify_tables, [KEYS, THREE, KEYS, THREE[:1]]), (certificates.certify_entry, [KEYS, THREE, 2]),
+    (certificates.certify_prefixes, [4, 3, 12, 4]), (certificates.certify_done, [SMALL, MADE, FILLED, NONE, FILLING]),
+    (certificates.certify_layout, [SMALL, MADE, LAID]),
+    (certificates.certify_sent, [SMALL, LAID, FILLED, NONE, ((1, (7, (1, 70, 6))),)]),
+    (certificates.certify_flow, [SMALL, FILLED, MADE, LAID, NONE, COMING]),
+    (certificates.certify_before, [SMALL, MADE, 7, 4]), (certificates.certify_laid, [SMALL, MADE, 1, CHIP, 1]),
 ]
+CONSOLE = console.fresh_console()
 
 # Values that are right there, though they are nothing in other places.
-RIGHT_TOO = {"contents": [((),)], "entries": [()], "others": [()], "form": [None]}
+RIGHT_TOO = {"contents": [((),)], "entries": [()], "others": [()], "form": [None], "packets": [()], "coming": [()],
+    "arrivals": [()]}
 
 LISTED = {
     "headers": {
@@ -85,6 +102,25 @@ LISTED = {
         "lives": ["program", "made", "layout", "stage"], "over": ["program", "made", "layout", "chip"],
         "fitted": ["program", "made", "gap", "chip", "most"],
     },
+    "flows": {
+        "flow": ["program", "contents", "made", "layout", "cells", "coming"],
+        "stand": ["program", "contents", "made", "layout", "cells", "coming", "beat"],
+    },
+    "certificates": {
+        "certify_parse": ["frame", "packet"], "certify_back": ["frame"], "certify_way": ["frame", "way"],
+        "certify_state": ["frame", "state"], "certify_read": ["writing"],
+        "certify_worked": ["program", "contents", "cells", "packets"],
+        "certify_tables": ["keys", "entries", "other_keys", "others"], "certify_entry": ["keys", "entries", "index"],
+        "certify_prefixes": ["width", "low", "high", "many"],
+        "certify_done": ["program", "made", "contents", "cells", "filling"],
+        "certify_layout": ["program", "made", "layout"],
+        "certify_sent": ["program", "layout", "contents", "cells", "arrivals"],
+        "certify_flow": ["program", "contents", "made", "layout", "cells", "coming"],
+        "certify_before": ["program", "made", "unit", "stage"],
+        "certify_laid": ["program", "made", "gap", "chip", "most"],
+    },
+    "checker": {"accepts": ["claim", "paper"]},
+    "console": {"fresh_console": [], "said": ["console", "line"], "told_all": ["console", "lines"]},
 }
 
 
@@ -101,8 +137,9 @@ class InterfaceTest(unittest.TestCase):
                     self.assertIs(parameter.default, parameter.empty)
 
     def test_each_function_that_raises_errors_is_called_here(self):
-        listed = [name for functions in LISTED.values() for name in functions if name.split("_")[0] not in ("is",
-            "are")]
+        # A console is one that was told, so its functions are tested by themselves.
+        listed = [name for module, functions in LISTED.items() if module not in ("checker", "console") for name in
+            functions if name.split("_")[0] not in ("is", "are")]
         self.assertEqual(listed, [call.__name__ for call, _ in CALLS])
 
     def test_true_or_false_is_told_whatever_the_value_is(self):
@@ -111,17 +148,22 @@ class InterfaceTest(unittest.TestCase):
             (programs.is_contents, [SMALL]), (programs.is_cells, [SMALL]), (tables.is_keys, []),
             (tables.are_entries, [KEYS]), (ranges.are_marks, [4, 3, 12]), (units.is_made, [SMALL]),
             (layouts.is_layout, [SMALL, MADE]), (layouts.is_chip, []),
+                (checker.accepts, [("right", SMALL, MADE, LAID)]),
         ]
         for value in JUNK + [HEADERS, FRAME, (1, (2,)), (), SMALL, FILLED, NONE, KEYS, THREE, MADE, LAID, CHIP, (3, 4)]:
             for call, ahead in calls:
                 self.assertIsInstance(call(*ahead, value), bool)
-                self.assertIs(call(*ahead, value), call(*ahead, value=value))
+                if call is not checker.accepts:
+                    self.assertIs(call(*ahead, value), call(*ahead, value=value))
+                self.assertIsInstance(checker.accepts(value, value), bool)
 
     def test_whatever_is_passed_only_own_errors_are_raised(self):
         for call, right in CALLS:
             call(*right)
             for at in range(len(right)):
                 also = RIGHT_TOO.get(inspect.getfullargspec(call).args[at], [])
+                if call is certificates.certify_read:
+                    also = [value for value in JUNK if isinstance(value, str)]
                 for value in [value for value in JUNK if value not in also]:
                     with self.assertRaises(StageError):
                         call(*right[:at], value, *right[at + 1:])
@@ -133,7 +175,7 @@ class InterfaceTest(unittest.TestCase):
             self.assertEqual(call(**dict(reversed(named.items()))), call(*right))
 
     def test_what_is_passed_is_left_as_it_is(self):
-        for call, right in CALLS:
+        for call, right in CALLS + [(console.said, [CONSOLE, "new"]), (console.told_all, [CONSOLE, ("new", "back")])]:
             before = repr(right)
             self.assertEqual(call(*right), call(*right))
             self.assertEqual(repr(right), before)
