@@ -17,11 +17,14 @@ def box_widths(headers, own):
 
 
 def is_known(known, value):
-    """Whether value is one of the expressions known, which are rows of texts."""
+    """Whether value is one of the expressions known, which are rows of two or three texts."""
     # Only a row of texts is looked up: what else the value may be need not be fit for that.
-    if not is_row(value, 2, 3) or not all([isinstance(part, str) for part in value]):
+    if not isinstance(value, tuple):
         return False
-    return value in known
+    if len(value) == 3:
+        first, second, third = value
+        return isinstance(first, str) and isinstance(second, str) and isinstance(third, str) and value in known
+    return len(value) == 2 and isinstance(value[0], str) and isinstance(value[1], str) and value in known
 
 
 def is_place(known, value):
@@ -31,7 +34,7 @@ def is_place(known, value):
 
 def is_target(known, value):
     """Whether value is a place that may be set."""
-    return is_place(known, value) and value != LOCAL_IN
+    return is_known(known, value) and value[0] in ("local", "field") and value != LOCAL_IN
 
 
 def box_name(box):

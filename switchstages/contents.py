@@ -27,9 +27,9 @@ def are_entries_of(widths, params, table, value):
 
 def is_entry_of(pairs, choice, params, value):
     """Whether value is an entry for keys of these kinds and widths, and one of these actions."""
-    if not is_row(value, 3, 3) or not are_sought(pairs, value[0]):
+    if not isinstance(value, tuple) or len(value) != 3:
         return False
-    return is_deed(choice, params, value[1], value[2])
+    return are_sought(pairs, value[0]) and is_deed(choice, params, value[1], value[2])
 
 
 def key_pairs(widths, table):

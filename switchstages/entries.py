@@ -1,6 +1,6 @@
 """Keys of tables and what entries seek by them: which values are right, and which words hit."""
 
-from switchstages.words import is_number, is_row, is_word
+from switchstages.words import is_number, is_word
 
 KINDS = ("exact", "prefix", "mask", "range")
 MOST_KEYS = 3
@@ -10,22 +10,27 @@ MOST_ENTRIES = 32
 
 def are_sought(pairs, value):
     """Whether value is what an entry may seek by these pairs of a kind and a width."""
-    if not is_row(value, len(pairs), len(pairs)):
+    # Each call that is passed contents comes here for each of their entries, so this keeps to plain loops.
+    if not isinstance(value, tuple) or len(value) != len(pairs):
         return False
-    return all([is_sought(kind, width, part) for (kind, width), part in zip(pairs, value)])
+    for (kind, width), part in zip(pairs, value):
+        if not is_sought(kind, width, part):
+            return False
+    return True
 
 
 def is_sought(kind, width, value):
     """Whether value is what an entry may seek by one key."""
     if kind == "exact":
         return is_word(value, width)
-    if not is_row(value, 2, 2) or not is_word(value[0], width):
+    if not isinstance(value, tuple) or len(value) != 2 or not is_word(value[0], width):
         return False
+    word, second = value
     if kind == "prefix":
-        return is_number(value[1], 0, width) and value[0] & ((1 << (width - value[1])) - 1) == 0
-    if not is_word(value[1], width):
+        return is_number(second, 0, width) and word & ((1 << (width - second)) - 1) == 0
+    if not is_word(second, width):
         return False
-    return value[0] & value[1] == value[0] if kind == "mask" else value[0] <= value[1]
+    return word & second == word if kind == "mask" else word <= second
 
 
 def as_mask(kind, width, sought):

@@ -1,8 +1,7 @@
 """Expressions and conditions: which values are some, by what is known in them."""
 
 from switchstages.boxes import is_known
-from switchstages.reckoning import CONDS, OPS
-from switchstages.words import WORD_WIDTH, is_row, is_word
+from switchstages.reckoning import CONDS, MOST_WORD, OP_WORDS
 
 DEEPEST_EXPRESSION = 5
 DEEPEST_CONDITION = 4
@@ -15,11 +14,15 @@ def is_expression(known, value):
 
 def is_expression_within(known, deep, value):
     """Whether value is an expression that is at most this deep."""
-    if deep == 0:
+    # Each call that is passed a program comes here for each of its expressions, so little is left to other functions.
+    if isinstance(value, int):
+        return deep > 0 and 0 <= value <= MOST_WORD and not isinstance(value, bool)
+    if deep == 0 or not isinstance(value, tuple):
         return False
-    if is_row(value, 3, 3) and isinstance(value[0], str) and value[0] in OPS:
-        return all([is_expression_within(known, deep - 1, part) for part in value[1:]])
-    return is_word(value, WORD_WIDTH) or is_known(known, value)
+    if len(value) == 3 and isinstance(value[0], str) and value[0] in OP_WORDS:
+        _, one, other = value
+        return is_expression_within(known, deep - 1, one) and is_expression_within(known, deep - 1, other)
+    return is_known(known, value)
 
 
 def is_condition(known, value):
@@ -29,10 +32,12 @@ def is_condition(known, value):
 
 def is_condition_within(known, deep, value):
     """Whether value is a condition that is at most this deep."""
-    if deep == 0 or not is_row(value, 2, 3) or not isinstance(value[0], str):
+    if deep == 0 or not isinstance(value, tuple) or not 2 <= len(value) <= 3 or not isinstance(value[0], str):
         return False
-    kind, parts = value[0], value[1:]
-    if kind in CONDS:
-        return len(parts) == 2 and all([is_expression(known, part) for part in parts])
-    many = {"not": 1, "both": 2, "either": 2}.get(kind)
-    return len(parts) == many and all([is_condition_within(known, deep - 1, part) for part in parts])
+    if value[0] in CONDS:
+        return len(value) == 3 and is_expression(known, value[1]) and is_expression(known, value[2])
+    if value[0] == "not":
+        return len(value) == 2 and is_condition_within(known, deep - 1, value[1])
+    if len(value) != 3 or value[0] not in ("both", "either"):
+        return False
+    return is_condition_within(known, deep - 1, value[1]) and is_condition_within(known, deep - 1, value[2])

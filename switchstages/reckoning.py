@@ -1,6 +1,8 @@
 """What is reckoned of words, and which comparisons hold of them."""
 
 OPS = ("add", "sub", "and", "or", "xor", "left", "right")
+# The same as a dict, in which one is found faster.
+OP_WORDS = {"add": True, "sub": True, "and": True, "or": True, "xor": True, "left": True, "right": True}
 CONDS = ("same", "other", "below", "from")
 WAYS = ("add", "set", "greatest", "least", "or")
 MOST_WORD = 4294967295

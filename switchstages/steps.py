@@ -21,13 +21,14 @@ DEEPEST_IF = 4
 
 def is_step(known, cells, value):
     """Whether value is a step; cells are the names of the registers."""
-    if not is_row(value, 2, 6) or not isinstance(value[0], str):
+    if not isinstance(value, tuple) or len(value) < 2 or not isinstance(value[0], str):
         return False
-    if value[0] == "set":
-        return len(value) == 3 and is_target(known, value[1]) and is_expression(known, value[2])
-    if value[0] == "put" or value[0] == "strike":
-        return len(value) == 2 and is_known(known, ("held", value[1]))
-    return value[0] == "touch" and len(value) == 6 and is_touch(known, cells, value)
+    kind, many = value[0], len(value)
+    if kind == "set":
+        return many == 3 and is_target(known, value[1]) and is_expression(known, value[2])
+    if kind == "touch":
+        return many == 6 and is_touch(known, cells, value)
+    return many == 2 and kind in ("put", "strike") and is_known(known, ("held", value[1]))
 
 
 def is_touch(known, cells, value):
@@ -40,35 +41,41 @@ def is_touch(known, cells, value):
 
 def are_actions(known, cells, value):
     """Whether value is the actions of a program."""
-    if not is_row(value, 1, MOST_ACTIONS) or not all([is_action(known, cells, action) for action in value]):
+    if not is_row(value, 1, MOST_ACTIONS):
+        return False
+    # What is known in actions: of parameters just those of the action at hand, taken away behind it.
+    inside = {expression: width for expression, width in known.items()}
+    if not all([is_action(inside, cells, action) for action in value]):
         return False
     return are_unlike(names_in(value))
 
 
-def is_action(known, cells, value):
-    """Whether value is an action."""
+def is_action(inside, cells, value):
+    """Whether value is an action; what is known inside it is left as it was."""
     if not is_row(value, 3, 3) or not is_name(value[0]) or not are_sized(value[1], 0, MOST_PARAMS):
         return False
     _, params, steps = value
-    inside = {expression: width for expression, width in known.items()}
     for name, width in params:
         inside[("param", name)] = width
-    return is_row(steps, 0, MOST_STEPS) and all([is_step(inside, cells, step) for step in steps])
+    are_steps = is_row(steps, 0, MOST_STEPS) and all([is_step(inside, cells, step) for step in steps])
+    for name, _ in params:
+        del inside[("param", name)]
+    return are_steps
 
 
 def are_tables(known, actions, value):
     """Whether value is the tables of a program with these actions."""
-    if not is_row(value, 0, MOST_TABLES) or not all([is_table(known, actions, table) for table in value]):
+    params = {action[0]: action[1] for action in actions}
+    if not is_row(value, 0, MOST_TABLES) or not all([is_table(known, params, table) for table in value]):
         return False
     return are_unlike(names_in(value))
 
 
-def is_table(known, actions, value):
-    """Whether value is a table."""
+def is_table(known, params, value):
+    """Whether value is a table; params are those of each action."""
     if not is_row(value, 5, 5) or not is_name(value[0]) or not is_number(value[4], 1, MOST_ROOM):
         return False
     _, table_keys, choice, default, _ = value
-    params = {action[0]: action[1] for action in actions}
     if not are_table_keys(known, table_keys) or not is_row(choice, 1, MOST_CHOICES):
         return False
     if not all([is_text_of(name, params) for name in choice]) or not are_unlike(choice):

@@ -24,7 +24,7 @@ def is_number(value, least, most):
 
 def is_word(value, width):
     """Whether value is a word below 2 to the width."""
-    return is_number(value, 0, (1 << width) - 1)
+    return isinstance(value, int) and 0 <= value < 1 << width and not isinstance(value, bool)
 
 
 def is_byte(value):
@@ -82,9 +82,12 @@ def are_sized(value, least, most):
 
 def are_words_for(sized, value):
     """Whether value is a row with a word for each pair of a name and a width."""
-    if not is_row(value, len(sized), len(sized)):
+    if not isinstance(value, tuple) or len(value) != len(sized):
         return False
-    return all([is_word(word, width) for (_, width), word in zip(sized, value)])
+    for (_, width), word in zip(sized, value):
+        if not is_word(word, width):
+            return False
+    return True
 
 
 def is_nothing(value):
