@@ -1,7 +1,7 @@
 """Claims of frames: which papers show them."""
 
-from switchstages.headers import is_packet, is_rest
-from switchstages.parsers import are_fields, is_frame, parsed, sent, walk
+from switchstages.headers import is_packet
+from switchstages.parsers import is_frame, parsed, sent, walk
 from switchstages.ways import lost_among, packet_to, ways_taken
 from switchstages.words import is_nothing, is_number, is_row, is_same, names_in
 
@@ -40,9 +40,8 @@ def is_parsed_so(kind, parts):
     told = parsed(parts[0], parts[1])
     if kind == "refused":
         return len(parts) == 2 and told is None
-    if len(parts) != 4 or not are_fields(parts[0][0], parts[2]) or not is_rest(parts[3]):
-        return False
-    return is_same(parts[2:], told)
+    # What is the same as fields and a rest that were told is some, too.
+    return len(parts) == 4 and is_same(parts[2:], told)
 
 
 def is_spoilt(frame, packet):

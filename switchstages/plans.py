@@ -95,19 +95,32 @@ def with_worth(fixed, atom, worth):
     return more
 
 
+def left_to_meet(fixed, guard):
+    """What a guard asks besides these worths of atoms; None if these miss it."""
+    left = {}
+    for atom, worth in guard.items():
+        if atom not in fixed:
+            left[atom] = worth
+        elif fixed[atom] != worth:
+            return None
+    return left
+
+
 def missing_all(plan, fixed, guards):
     """Worths of atoms, these among them, by which all of these guards are missed; None if there are none."""
-    near = [guard for guard in guards if not is_missed(fixed, guard)]
+    near = [left for left in [left_to_meet(fixed, guard) for guard in guards] if left is not None]
     if not near:
         return fixed
-    for atom in [asked for asked in near[0] if asked not in fixed]:
-        # One of its atoms has to be of another worth; those tried ahead need not be tried again.
+    # The guard with the fewest atoms left is the hardest one to miss: one of them has to be of another worth.
+    hardest = min(near, key=len)
+    for atom, barred in hardest.items():
         for worth in plan.worths[atom]:
-            if worth != near[0][atom]:
-                found = missing_all(plan, with_worth(fixed, atom, worth), near[1:])
+            if worth != barred:
+                found = missing_all(plan, with_worth(fixed, atom, worth), near)
                 if found is not None:
                     return found
-        fixed = with_worth(fixed, atom, near[0][atom])
+        # Its other worths have been tried, so behind them it has this one.
+        fixed = with_worth(fixed, atom, barred)
     return None
 
 

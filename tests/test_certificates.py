@@ -308,6 +308,17 @@ class CertificatesTest(unittest.TestCase):
                 unit = len(made[1]) - 1
                 self.assertIn(self.certified(certify_before, program, made, unit, 63)[0], ("before", "not before"))
 
+    def test_indexes_at_their_bounds(self):
+        for frame in (FRAME, TURNED):
+            for value in (2, 3):
+                assert_raises(self, InvalidNumber, "given", value, certify_state, frame, value)
+        self.assertEqual(self.certified(certify_state, DEAD, 2)[0], "come to")
+        self.assertEqual(self.certified(certify_sent, SMALL, LAID, FILLED, NONE, ())[0], "sent alike")
+        with self.assertRaises(NotShown):
+            certify_sent(SMALL, HASTY, FILLED, NONE, ())
+        many = tuple((at, PACKETS[2]) for at in range(981, 1001))
+        self.assertEqual(self.certified(certify_sent, SMALL, LAID, FILLED, NONE, many)[0], "sent alike")
+
     def test_units_that_are_not_made_so(self):
         with self.assertRaises(NotShown):
             certify_done(SMALL, OTHER_MADE, FILLED, NONE, FIRST)
@@ -369,7 +380,7 @@ class CertificatesTest(unittest.TestCase):
             "way": (InvalidWay, JUNK + [("accept",), ("a", "refuse"), ["a", "accept"], ("a",) * 9 + ("accept",),
                 (1, "accept"),
                 ("a", "accept", None)]),
-            "state": (InvalidNumber, JUNK + [-1, 64, True, None, "0"]),
+            "state": (InvalidNumber, JUNK + [-1, 3, 64, True, None, "0"]),
             "writing": (InvalidWriting, [value for value in JUNK if not isinstance(value, str)]),
             "program": (InvalidProgram, JUNK + [SMALL[:7]]), "contents": (InvalidContents, [(), FILLED[0], None, [()]]),
             "cells": (InvalidCells, [(), NONE[0], ((True, 0, 0, 0),), None]),

@@ -4,6 +4,7 @@ import unittest
 
 from switchstages.checker import accepts
 from switchstages.layouts import early, leans_on, wrong_in
+from switchstages.making import made_of as made_in
 from switchstages.ranges import are_marks, prefixes_of
 from switchstages.tables import hit_by, told_by
 from switchstages.texts import show_program
@@ -20,6 +21,7 @@ from tests.small import FILLED, NONE, SMALL, controlled
 from tests.test_flows import COMING
 from tests.test_layouts import CHIP, HASTY, HURRIED, LAID, MADE, asks, made_of
 from tests.test_tables import KEYS, THREE, all_words
+from tests.test_units import wide_program
 
 ONE = ("word", 1)
 ALL = ((0, 0), (0, 0))
@@ -178,6 +180,11 @@ class ClaimsTest(unittest.TestCase):
             (5, ((0, 0, 2),)), (2, ((0, 0, 0, 65536),)), (1, ()), (0, SMALL[:7])]:
             parts = right[:at] + [value] + right[at + 1:]
             accepted(self, False, (("worked", *parts), ()), (("not worked", *parts), ()))
+        accepted(self, True, (("not worked", *right[:4], ((4, ()),) + OUTCOMES[1:], left), ()))
+        for packet in (None, (7, [1]), (256, ()), 7, (7,), ((7, (0,)),), "gone"):
+            for kind in ("worked", "not worked"):
+                accepted(self, False, ((kind, SMALL, FILLED, NONE, PACKETS[:3] + (packet,), OUTCOMES, left), ()),
+                    ((kind, SMALL, FILLED, NONE, (packet,), ("refused",), NONE), ()))
         accepted(self, True, (("worked", SMALL, FILLED, NONE, PACKETS[2:] * 50, OUTCOMES[2:] * 50, NONE), ()))
         accepted(self, False, (("worked", SMALL, FILLED, NONE, PACKETS[2:] * 51, OUTCOMES[2:] * 51, NONE), ()))
 
@@ -226,6 +233,17 @@ class PiecesTest(unittest.TestCase):
 
     def hits(self, keys, entry, words):
         return all(key_hit(kind, width, part, word) for (kind, width), part, word in zip(keys, entry[0], words))
+
+    def test_pieces_on_which_one_side_alone_is_settled(self):
+        half, whole = ((((4, 1), (0, 0)), "a", ()),), ((ALL, "a", ()),)
+        both = half + ((((0, 1), (0, 0)), "a", ()),)
+        for one, other in [(whole, both), (both, whole)]:
+            accepted(self, False, (("tell alike", KEYS, one, KEYS, other), ((0, 0),)))
+            accepted(self, True, (("tell alike", KEYS, one, KEYS, other), ((1, 0), (1, 1))))
+        for one, other in [(whole, half), (half, whole)]:
+            accepted(self, False, (("tell alike", KEYS, one, KEYS, other), ((0, 0),)))
+            accepted(self, False, (("tell alike", KEYS, one, KEYS, other), ((1, 0), (1, 1))))
+            accepted(self, True, (("part first", KEYS, one, KEYS, other, (0, 0)), ()))
 
     def test_rows(self):
         claim = ("tell alike", KEYS, (), (("range", 3), ("exact", 2)), ())
@@ -295,7 +313,8 @@ class PiecesTest(unittest.TestCase):
             accepted(self, False, (("held by", 4, 3, 12, 64), paper))
         singles = tuple((word, 4) for word in range(3, 13))
         accepted(self, True, (("held by", 4, 3, 12, 10), singles), (("held by", 32, 5, 5, 1), ((5, 32),)),
-            (("held by", 32, 0, 4294967295, 1), ((0, 0),)))
+            (("held by", 32, 0, 4294967295, 1), ((0, 0),)), (("held by", 1, 0, 1, 1), ((0, 0),)),
+            (("not held by", 1, 1, 1, 0), (1,)))
         accepted(self, False, (("held by", 4, 3, 12, 9), singles),
             (("held by", 6, 0, 63, 63), tuple((word, 6) for word in
             range(64))))
@@ -385,6 +404,38 @@ class LaidTest(unittest.TestCase):
                 (1, (1, 5, 3),
             ("gap", 1, 2), False), (1, (1, 5, 3), ("gap", 0, 3), False), (1, (1, 5, 3), ("gap", False, 2), False)]:
             accepted(self, told, (("not right", BASE, made, (gap, stages)), paper))
+
+    def test_touches_and_sources_in_ways_that_they_are_not_active_in(self):
+        touches = [("touch", ((6, 1),), 0, ONE, "add", ONE, 7), ("touch", (), 0, ONE, "add", ONE, 8),
+            ("touch", ((6, 1),),
+            0, ONE, "add", ONE, 9)]
+        claim = ("not right", BASE, made_of(asks(1) + touches, (1, 8, 8, 8)), (9, (0, 3, 3, 3)))
+        for way, one, other, told in [(((6, 1),), 1, 2, True), (((6, 0),), 1, 2, False), (((6, 1),), 2, 3, True), (((6,
+            0),), 2, 3, False), (((6, 1),), 2, 1, False), ((), 1, 2, False), (((6, 1),), 1, 3, True)]:
+            accepted(self, told, (claim, ("order", way, one, other)))
+        sets = [("set", (), 4, ("box", 1)), ("set", (), 1, ONE), ("set", (), 5, ("box", 1))]
+        claim = ("not right", BASE, made_of(sets), (1, (1, 0, 0)))
+        for paper, told in [(("source", (), 0, 1, None, 1), True), (("source", (), 2, 1, 1, None), True),
+            (("source", (), 0, 1, None, True), False), (("source", (), 2, 1, True, None), False),
+                (("source", (), False, 1,
+            None, 1), False), (("source", (), 0, True, None, 1), False), (("source", (), 1, 1, None, 1), False),
+                (("source",
+            (), 0, 1, None, (1,)), False), (("source", (), 2, 1, [1], None), False),
+                (("source", (), 0, 1, None, 3), False)]:
+            accepted(self, told, (claim, paper))
+
+    def test_layouts_of_too_many_units_or_boxes(self):
+        for program in (wide_program(15, 4, heads=1), wide_program(0, 0, 160)):
+            made = made_in(program)
+            stages = tuple(range(63)) + (63,) * (len(made[1]) - 63)
+            accepted(self, False, (("sent alike", program, (1, stages)), ("right",)),
+                (("sent otherwise", program, (1, stages)),
+                ((), (), ((0, (1, ())),))), (("right", program, made, (1, stages)), ()), (("done alike", program, made),
+                ("units",)))
+        small = wide_program(15, 3, heads=1)
+        made = made_in(small)
+        layout = early(small, made)
+        accepted(self, True, (("sent alike", small, layout), ("right",)), (("done alike", small, made), ("units",)))
 
     def test_ways_that_are_none(self):
         claim = ("not right", SMALL, MADE, HASTY)
@@ -484,6 +535,13 @@ class ChainsTest(unittest.TestCase):
         ]:
             accepted(self, told, (claim, chain))
         self.assertEqual(whys[5][1], 12)
+        # Unit 7 does not read what unit 4 writes; no more stands behind touch.
+        accepted(self, False, (claim, ((4, None), (7, ("source", 12, ((11, 1), (13, 1)))))),
+            (claim, ((4, None), (7, ("source",
+            12, ((11, 1),))))))
+        accepted(self, False, (("not before", TWICE, TWICE_MADE, 2, 1), ((0, None), (2, ("touch", 1)))),
+            (("not before", TWICE, TWICE_MADE, 2, 1), ((0, None), (2, ("touch", ())))))
+        accepted(self, True, (("not before", TWICE, TWICE_MADE, 2, 1), ((0, None), (2, ("touch",)))))
         for way in [(), ((11, 0), (13, 1)), ((11, 1),), ((11, 1), (13, 0)), ((11, 1), (13, 1), (14, 0)), None,
             [(11, 1), (13,
             1)], ((13, 1), (11, 1))]:

@@ -355,11 +355,30 @@ class LayoutsTest(unittest.TestCase):
         made = made_of(units, (8, 8))
         self.assertEqual(early(BASE, made)[0], 3)
         self.assertIs(over(BASE, made, fitted(BASE, made, 2, CHIP, 9), CHIP), None)
-        # What is reckoned early lives long.
-        units = [("reckon", 6, "add", ONE, ONE)] + [("set", (), 4, ("box", 4))] * 3 + [("reckon", 7, "add", ("box", 4),
-            ("box", 6)), ("set", (), 1, ("box", 7))]
-        made = made_of(units, (32, 8))
-        self.assertIs(fitted(BASE, made, 1, (6, 9, 0, 0, 32), 200) is None, False)
+        # Looks and their rooms count, too: each has to stand in a stage of its own, and the chip has no more.
+        looks = [("look", 0, (ONE, ONE), 6, (7, 8)), ("look", 2, (ONE,), 9, ()), ("look", 1, (ONE,), 10, (11,))]
+        made = made_of(looks, (3, 5, 6, 4, 3, 32))
+        for chip in [(3, 1, 1, 32, 99), (3, 3, 1, 32, 99), (2, 2, 2, 32, 99), (2, 3, 3, 36, 99)]:
+            layout = fitted(BASE, made, 1, chip, 9)
+            self.assertIs(over(BASE, made, layout, chip), None)
+        for chip in [(2, 3, 1, 32, 99), (2, 3, 3, 31, 99), (2, 1, 3, 38, 99)]:
+            self.assertIs(fitted(BASE, made, 1, chip, 200), None)
+
+    def test_what_is_needed_late_is_written_late(self):
+        # Two boxes are reckoned early, but only one of them is read soon.
+        units = [("reckon", 6, "add", ONE, ONE), ("reckon", 7, "add", ONE, ONE), ("set", (), 4, ("box", 6)),
+            ("set", (), 4,
+            ("box", 4)), ("reckon", 8, "add", ("box", 4), ("box", 7)), ("set", (), 1, ("box", 8))]
+        made = made_of(units, (32, 32, 32))
+        self.assertEqual(early(BASE, made), (1, (0, 0, 1, 2, 3, 4)))
+        for bits, told in [(64, None), (63, ("bits", 1))]:
+            self.assertEqual(over(BASE, made, early(BASE, made), (5, 9, 0, 0, bits)), told)
+        self.assertEqual(fitted(BASE, made, 1, (5, 9, 0, 0, 32), 9)[1], (0, 1, 1, 2, 3, 4))
+        self.assertIs(fitted(BASE, made, 1, (5, 9, 0, 0, 31), 200), None)
+        # A box that is asked by a guard is needed as well.
+        units[1:2] = [("ask", 7, "same", ONE, ONE), ("set", ((7, 1),), 5, ONE)]
+        made = made_of(units, (32, 1, 32))
+        self.assertEqual(over(BASE, made, early(BASE, made), (5, 9, 0, 0, 32)), ("bits", 1))
 
     def test_wrong_parameters(self):
         right = {

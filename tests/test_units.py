@@ -8,7 +8,7 @@ from switchstages.errors import (
 )
 from switchstages.programs import behind, first_cells, is_program
 from switchstages.units import atoms_of, done, is_made, reads_of, units_of, writes_of
-from tests.madeup import BASE, OWN, Told, cases
+from tests.madeup import BASE, OWN, TABLES, Told, cases
 from tests.makers import Maker
 from tests.samples import JUNK, assert_raises
 from tests.small import (
@@ -240,6 +240,14 @@ class DoneTest(unittest.TestCase):
         for word, told in [(128, (2, 7)), (256 + 127, (1, 0)), (256 + 200, (2, 7)), (0, (1, 0))]:
             look = ("look", 1, (("word", word),), 7, (6,))
             self.assertEqual(self.done(look, widths=(4, 3), contents=entries)[0], (2, told[1], told[0]))
+
+    def test_what_is_sought_by_ranges_is_taken_modulo_too(self):
+        entries = (((((1, 5), (0, 0)), "two", (1, 2)),), (), ())
+        for word, hit in [(3, 2), (256 + 3, 2), (6, 3), (256 + 6, 3), (4294967040, 3), (4294967045, 2)]:
+            look = ("look", 0, (("word", word), ("word", 512)), 6, (7, 8))
+            program = BASE[:6] + ((TABLES[0][:3] + (("three", (9,)),) + TABLES[0][4:],) + TABLES[1:],) + BASE[7:]
+            made = (OWN + (3, 32, 32), (look,))
+            self.assertEqual(done(program, entries, made, ((0,) * 4, (0,) * 3), (0,) * 6)[0][6], hit)
 
     def test_units_are_done_one_behind_the_other(self):
         units = (("set", (), 1, ("box", 6)), ("reckon", 6, "add", ("box", 1), ("word", 5)), ("set", (), 7, ("box", 6)))
