@@ -1,6 +1,6 @@
 """Keys of tables and what entries seek by them: which values are right, and which words hit."""
 
-from switchstages.words import is_number, is_word
+from switchstages.words import is_word
 
 KINDS = ("exact", "prefix", "mask", "range")
 MOST_KEYS = 3
@@ -23,14 +23,15 @@ def is_sought(kind, width, value):
     """Whether value is what an entry may seek by one key."""
     if kind == "exact":
         return is_word(value, width)
-    if not isinstance(value, tuple) or len(value) != 2 or not is_word(value[0], width):
+    if not isinstance(value, tuple) or len(value) != 2:
         return False
     word, second = value
-    if kind == "prefix":
-        return is_number(second, 0, width) and word & ((1 << (width - second)) - 1) == 0
-    if not is_word(second, width):
+    if not isinstance(word, int) or not isinstance(second, int) or isinstance(word, bool) or isinstance(second, bool):
         return False
-    return word & second == word if kind == "mask" else word <= second
+    if kind == "prefix":
+        return 0 <= word < 1 << width and 0 <= second <= width and word & ((1 << (width - second)) - 1) == 0
+    # A word within a mask is at most the mask, so in both cases the second number is the greater one.
+    return 0 <= word <= second < 1 << width and (kind == "range" or word & second == word)
 
 
 def as_mask(kind, width, sought):

@@ -7,22 +7,19 @@ DEEPEST_EXPRESSION = 5
 DEEPEST_CONDITION = 4
 
 
-def is_expression(known, value):
-    """Whether value is an expression."""
-    return is_expression_within(known, DEEPEST_EXPRESSION, value)
-
-
-def is_expression_within(known, deep, value):
+def is_expression(known, value, deep=DEEPEST_EXPRESSION):
     """Whether value is an expression that is at most this deep."""
     # Each call that is passed a program comes here for each of its expressions, so little is left to other functions.
     if isinstance(value, int):
         return deep > 0 and 0 <= value <= MOST_WORD and not isinstance(value, bool)
     if deep == 0 or not isinstance(value, tuple):
         return False
-    if len(value) == 3 and isinstance(value[0], str) and value[0] in OP_WORDS:
-        _, one, other = value
-        return is_expression_within(known, deep - 1, one) and is_expression_within(known, deep - 1, other)
-    return is_known(known, value)
+    if len(value) != 3 or not isinstance(value[0], str):
+        return is_known(known, value)
+    first, one, other = value
+    if first in OP_WORDS:
+        return is_expression(known, one, deep - 1) and is_expression(known, other, deep - 1)
+    return isinstance(one, str) and isinstance(other, str) and value in known
 
 
 def is_condition(known, value):

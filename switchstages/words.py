@@ -84,8 +84,9 @@ def are_words_for(sized, value):
     """Whether value is a row with a word for each pair of a name and a width."""
     if not isinstance(value, tuple) or len(value) != len(sized):
         return False
+    # Each entry of contents comes here, so no word is left to a function of its own.
     for (_, width), word in zip(sized, value):
-        if not is_word(word, width):
+        if not isinstance(word, int) or not 0 <= word < 1 << width or isinstance(word, bool):
             return False
     return True
 
