@@ -75,9 +75,10 @@ def fitted_stages(program, plan, made, wanted, most):
     """The stages of a layout that fits, wanted being its gap and the chip; None if none of so many tries does."""
     gap, chip = wanted
     floors = [0] * len(plan.units)
+    rules = rules_of(plan)
     for at in range(most):
         # The early layout is tried first, then ones that keep to what the chip's stages may have.
-        stages = early_stages(plan) if at == 0 else stages_above(program, plan, chip, floors)
+        stages = early_stages(rules) if at == 0 else stages_above(looked_up(program, plan), chip, rules, floors)
         if stages is None:
             return None
         if max(stages + [0]) < MOST_STAGES and wish_broken(plan, gap, stages) is None:
@@ -91,13 +92,12 @@ def fitted_stages(program, plan, made, wanted, most):
     return None
 
 
-def stages_above(program, plan, chip, floors):
+def stages_above(rooms, chip, rules, floors):
     """The least stages from the floors on by the rules, no stage having too much; None if the chip is too short."""
     many, most_units, most_looks, most_room, _ = chip
-    rooms = looked_up(program, plan)
     left = [[most_units, most_looks, most_room] for _ in range(many)]
     stages = []
-    for index, rule in enumerate(rules_of(plan)):
+    for index, rule in enumerate(rules):
         wants = [1, 1, rooms[index]] if index in rooms else [1, 0, 0]
         stage = max(least_stage(rule, stages), floors[index])
         while stage < many and any([have < want for have, want in zip(left[stage], wants)]):

@@ -2,7 +2,7 @@
 
 from switchstages.errors import InvalidChip, InvalidLayout, InvalidNumber, TooMany
 from switchstages.fitting import MOST_STAGES, first_made, fitted_stages, living_at, over_in, spans_of_boxes
-from switchstages.leanings import early_stages, leaned_on, least_gap
+from switchstages.leanings import early_stages, leaned_on, least_gap, rules_of
 from switchstages.plans import MOST_WAYS, Plan, most_ways
 from switchstages.units import check_made, check_unit
 from switchstages.wishes import wish_broken
@@ -65,7 +65,7 @@ def early_of(program, made):
     """What early tells, both parameters being right."""
     plan = Plan(program, made)
     check_ways(plan)
-    stages = early_stages(plan)
+    stages = early_stages(rules_of(plan))
     many = max(stages + [0]) + 1
     if many > MOST_STAGES:
         raise TooMany(many)

@@ -58,10 +58,10 @@ def least_stage(rule, stages):
     return max([stages[other] + 1 for other in behind] + [stages[other] for other in at] + [0])
 
 
-def early_stages(plan):
-    """The stages of the early layout, however many they are."""
+def early_stages(rules):
+    """The stages of the early layout by the rules of all units, however many they are."""
     stages = []
-    for rule in rules_of(plan):
+    for rule in rules:
         stages.append(least_stage(rule, stages))
     return stages
 
