@@ -1,5 +1,7 @@
 """How the console writes what it answers."""
 
+NOT_UNDERSTOOD = "not understood"
+
 
 def row_of_numbers(begin, numbers):
     """A row that begins so, with a blank ahead of each number."""

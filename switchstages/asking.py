@@ -1,6 +1,8 @@
 """Lines of the console that only ask: each one is answered by what its state tells."""
 
-from switchstages.answers import clash_shown, outcome_shown, over_shown, row_of_numbers, rows_or_none
+from switchstages.answers import (
+    NOT_UNDERSTOOD, clash_shown, outcome_shown, over_shown, row_of_numbers, rows_or_none,
+)
 from switchstages.boxes import box_widths
 from switchstages.contents import key_pairs
 from switchstages.flowing import Flow, sent_by_chip
@@ -15,7 +17,6 @@ from switchstages.programs import filling_of, worked_in_row
 from switchstages.shown import contents_rows, program_rows
 from switchstages.tables import idle_among
 
-NOT_UNDERSTOOD = "not understood"
 NO_LAYOUT = "no layout"
 
 

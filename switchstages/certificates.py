@@ -15,7 +15,7 @@ from switchstages.flows import check_flow
 from switchstages.frameclaims import is_way_told
 from switchstages.headers import check_packet
 from switchstages.laidclaims import is_unlike_done
-from switchstages.layouts import MOST_TRIES, check_layout, check_wanted, check_ways, early_of, is_layout_of
+from switchstages.layouts import check_layout, check_wanted, check_ways, early_of, is_layout_of
 from switchstages.making import made_of
 from switchstages.papers import pieces_alike, pieces_idle
 from switchstages.parsers import check_frame, parsed
@@ -216,9 +216,7 @@ def early_or_none(program, made):
 
 def certify_laid(program, made, gap, chip, most):
     """Whether some layout with this gap fits a chip: not laid or laid."""
-    check_wanted(program, made, gap, chip)
-    if not is_number(most, 0, MOST_TRIES):
-        raise InvalidNumber(most)
+    check_wanted(program, made, gap, chip, most)
     plan = Plan(program, made)
     check_ways(plan)
     wanted = too_much_for(program, plan, chip)

@@ -1,10 +1,9 @@
 """The console: lines that lead from state to state, and their answers."""
 
+from switchstages.answers import NOT_UNDERSTOOD
 from switchstages.asking import ASKED_ALONE, ASKED_BY_WORDS, answer_to
 from switchstages.errors import InvalidLines
-from switchstages.saying import (
-    BY_WORDS, BY_WRITING, FRESH, NOT_UNDERSTOOD, changed_by_words, changed_by_writing,
-)
+from switchstages.saying import BY_WORDS, BY_WRITING, FRESH, changed_by_words, changed_by_writing
 from switchstages.words import is_row
 
 MOST_EARLIER = 20

@@ -103,9 +103,7 @@ def over_of(program, plan, made, layout, chip):
 
 def fitted(program, made, gap, chip, most):
     """A layout with this gap that fits a chip; None if none of so many tries does."""
-    check_wanted(program, made, gap, chip)
-    if not is_number(most, 0, MOST_TRIES):
-        raise InvalidNumber(most)
+    check_wanted(program, made, gap, chip, most)
     plan = Plan(program, made)
     check_ways(plan)
     stages = fitted_stages(program, plan, made, (gap, chip), most)
@@ -125,12 +123,14 @@ def check_chip(chip):
         raise InvalidChip(chip)
 
 
-def check_wanted(program, made, gap, chip):
+def check_wanted(program, made, gap, chip, most):
     """Raise the error of the first of these that is wrong."""
     check_made(program, made)
     if not is_number(gap, 1, MOST_GAP):
         raise InvalidNumber(gap)
     check_chip(chip)
+    if not is_number(most, 0, MOST_TRIES):
+        raise InvalidNumber(most)
 
 
 def check_ways(plan):

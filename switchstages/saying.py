@@ -2,10 +2,11 @@
 
 # A state is (PROGRAM, CONTENTS, CELLS, LAYOUT, COMING).
 
-from switchstages.answers import layout_shown, outcome_shown
+from switchstages.answers import NOT_UNDERSTOOD, layout_shown, outcome_shown
 from switchstages.errors import InvalidWriting, TooMany
 from switchstages.fitting import fitted_stages
-from switchstages.layouts import check_ways, early_of
+from switchstages.flows import MOST_BEAT
+from switchstages.layouts import MOST_GAP, check_ways, early_of, is_layout_of
 from switchstages.making import made_of
 from switchstages.numerals import chip_in, numbers_in, packet_in
 from switchstages.parsers import parsed
@@ -17,8 +18,6 @@ from switchstages.wishes import wish_broken
 from switchstages.words import is_number
 
 FRESH = (None, (), (), None, ())
-NOT_UNDERSTOOD = "not understood"
-MOST_BEAT = 1000
 MOST_COMING = 20
 TRIES = 100
 
@@ -76,9 +75,7 @@ def lay_told(state, words):
     """A layout is told by its gap and stages."""
     numbers = numbers_in(words)
     made = made_of(state[0])
-    if numbers is None or len(numbers) != 1 + len(made[1]) or not is_number(numbers[0], 1, 16):
-        return state, NOT_UNDERSTOOD
-    if not all([stage < 64 for stage in numbers[1:]]):
+    if not numbers or not is_layout_of(made, (numbers[0], tuple(numbers[1:]))):
         return state, NOT_UNDERSTOOD
     return laid_out(state, made, (numbers[0], tuple(numbers[1:])))
 
@@ -98,7 +95,7 @@ def early_told(state, words):
 def fit_told(state, words):
     """A layout that fits a chip is asked for."""
     numbers = numbers_in(words)
-    if numbers is None or len(numbers) != 6 or not is_number(numbers[0], 1, 16) or chip_in(numbers[1:]) is None:
+    if numbers is None or len(numbers) != 6 or not is_number(numbers[0], 1, MOST_GAP) or chip_in(numbers[1:]) is None:
         return state, NOT_UNDERSTOOD
     made = made_of(state[0])
     plan = Plan(state[0], made)

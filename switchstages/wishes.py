@@ -55,16 +55,20 @@ def source_wrong(plan, stages, index, box, guard):
     writers = plan.writers[box]
     # The end is behind all units, and in a later stage than any.
     is_end = index == len(plan.units)
-    plain = [other for other in writers if other < index]
-    staged = writers if is_end else [other for other in writers if stages[other] < stages[index]]
-    asked = [other for other in writers] if is_end else writers + [index]
-    staged = [other for _, other in sorted([(stages[other], other) for other in staged])]
-    atoms = atoms_asked(plan, asked)
+    plain = [writer for writer in writers if writer < index]
+    staged = by_stage(stages, [writer for writer in writers if is_end or stages[writer] < stages[index]])
+    atoms = atoms_asked(plan, writers if is_end else writers + [index])
     found = sources_unlike(plan, guard, plain, staged, atoms)
     if found is None:
         return None
     fixed, source, other = found
     return ("source", way_told(plan, fixed, atoms), index, box, source, other)
+
+
+def by_stage(stages, indexes):
+    """These units by their stages, those of one stage as they stand."""
+    pairs = [(stages[index], index) for index in indexes]
+    return [index for _, index in sorted(pairs)]
 
 
 def sources_unlike(plan, fixed, plain, staged, atoms):

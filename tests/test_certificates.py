@@ -32,24 +32,13 @@ from tests.makers import Maker
 from tests.samples import FRAME, JUNK, TURNED, assert_raises
 from tests.small import FILLED, NONE, SMALL, full_program
 from tests.test_flows import COMING, FIRST
+from tests.test_interface import LISTED
 from tests.test_layouts import CHIP, HASTY, HURRIED, LAID, MADE, ONE, asks, assert_given, made_of
 from tests.test_tables import KEYS, THREE, WRONG_KEYS
 from tests.test_units import filling_for, wide_program
 
 UNSENT = (7, 0, 0, 0, 1, 0, 9, 0, 0)
-NAMES = {
-    "certify_parse": ["frame", "packet"], "certify_back": ["frame"], "certify_way": ["frame", "way"],
-    "certify_state": ["frame", "state"], "certify_read": ["writing"],
-    "certify_worked": ["program", "contents", "cells", "packets"],
-    "certify_tables": ["keys", "entries", "other_keys", "others"], "certify_entry": ["keys", "entries", "index"],
-    "certify_prefixes": ["width", "low", "high", "many"],
-    "certify_done": ["program", "made", "contents", "cells", "filling"],
-    "certify_layout": ["program", "made", "layout"],
-    "certify_sent": ["program", "layout", "contents", "cells", "arrivals"],
-    "certify_flow": ["program", "contents", "made", "layout", "cells", "coming"],
-    "certify_before": ["program", "made", "unit", "stage"],
-    "certify_laid": ["program", "made", "gap", "chip", "most"],
-}
+NAMES = LISTED["certificates"]
 # All of them with arguments that are right, and the kinds of the claims that come of them.
 RIGHT = [
     (certify_parse, [FRAME, (1, (7, 35))], "parsed"), (certify_parse, [FRAME, (1, (7,))], "refused"),

@@ -17,11 +17,18 @@ YES = ("same", 1, 1)
 OPS = ("add", "sub", "and", "or", "xor", "left", "right")
 CONDS = ("same", "other", "below", "from")
 WAYS = ("add", "set", "greatest", "least", "or")
+
+
+def deep_places(deep):
+    """An expression that is this deep, without a word in it."""
+    return KIND if deep == 1 else ("xor", OLD, deep_places(deep - 1))
+
+
 RIGHT_EXPRESSIONS = [
     0, 1, 4294967295, KIND, MARK, IN, OUT, GONE, OLD, ("held", "base"), ("held", "tag"),
     *[(op, 1, OLD) for op in OPS], ("add", ("held", "tag"), ("sub", KIND, 3)), deep_expression(5),
     deep_expression(5, KIND),
-    deep_expression(5, ("held", "tag"), -1),
+    deep_expression(5, ("held", "tag"), -1), deep_places(5),
 ]
 WRONG_EXPRESSIONS = [
     -1, 4294967296, True, False, None, "old", "in", 10 ** 399, (), (1,), [1], ["add", 1, 1], ("old",), ("in",),
@@ -33,6 +40,9 @@ WRONG_EXPRESSIONS = [
     ("add", 1, ("same", 1, 1)), ("add", ["local", "old"], 1), ("Add", 1, 1), ("add", 1, -1), ("add", 4294967296, 1),
     deep_expression(6), deep_expression(6, KIND, -1), (None, 1, 1), (1, 1, 1), (("add",), 1, 1), ("box", 1),
     ("word", 1), ("register", "hits"), {"add": 1}, ("left", "old", 1), (OLD, OLD),
+    ([], 1, 1), ({}, 1, 1), ([], "base", "kind"), ("field", [], "kind"), ("field", "base", []), ("field", {}, {}),
+    ([], "old"), ("local", []), ({}, {}), ((), ()), ("field", ("base",), "kind"), (None, "base", "kind"),
+    deep_places(6), deep_places(7),
 ]
 RIGHT_CONDITIONS = [
     *[(cond, OLD, 7) for cond in CONDS], ("not", YES), ("both", YES, ("not", YES)),
@@ -71,7 +81,10 @@ WRONG_STEPS = [
     ("touch", "hits", ("param", "port"), "add", 1, None), ("touch", "hits", 0, "add", True, None), (None, "tag"),
     ("touched", "hits", 0, "add", 1, None), (None, "hits", 0, "add", 1, None), ("touch", "hits", 0, "add", 1, False),
     ("touch", "hits", 0, "greater", 1, None), ("touch", "hits", deep_expression(6), "add", 1, None),
-    ("touch", "hits", 0, "add", deep_expression(6), None),
+    ("touch", "hits", 0, "add", deep_expression(6), None), ("set", ([], "base", "kind"), 1),
+    ("set", ("field", [], "kind"), 1), ("set", ("field", "base", []), 1), ("set", ([], "old"), 1),
+    ("set", ("local", []), 1), ("set", (None, "old"), 1), ("touch", "hits", 0, "add", 1, ("field", {}, "kind")),
+    ([], OUT, 1), ("put", []), ("strike", ("tag",)), ({}, "tag"),
 ]
 
 
@@ -235,7 +248,8 @@ class TablesTest(Telling):
             (("exact", TTL),), ((1, "exact"),), ((("param", "port"), "exact"),), ((("held", "tag"), "exact"),),
             ((("local", "new"), "exact"),), (None,), ((("field", "tag", "kind"), "exact"),),
             ((("add", 1, 1), "exact"),), ((["local", "in"], "exact"),), None, ((TTL, "exact"), None),
-            ((TTL, "exact"), (TTL, "exact", 1)),
+            ((TTL, "exact"), (TTL, "exact", 1)), ((([], "base", "ttl"), "exact"),), ((("field", [], "ttl"), "exact"),),
+            ((("field", "base", []), "exact"),), ((("local", []), "exact"),), ((([], "in"), "exact"),),
         ]
         self.wrong(*self.changed(1, *wrong, *JUNK))
 
