@@ -46,25 +46,27 @@ def form_tells(keys, form, words):
 
 def is_form(bits, value):
     """Whether value is a form in which bits with an index below this stand alone."""
-    left = [(value, 0)]
+    left, asked = [(value, 0)], []
     while left:
         part, least = left.pop()
         if not is_form_part(bits, least, part):
             return False
         if part is not None and part[0] == "bit":
             left.extend([(part[2], part[1] + 1), (part[3], part[1] + 1)])
-    return True
+            asked.append(part)
+    # Only what else is a form is compared: other values may take long.
+    return all([part[2] != part[3] for part in asked])
 
 
 def is_form_part(bits, least, value):
-    """Whether value is a form so far as can be told without the forms within it."""
+    """Whether value is a form so far as can be told without looking into the forms within it."""
     if value is None:
         return True
     if not is_row(value, 3, 4) or not is_text_of(value[0], ("told", "bit")):
         return False
     if value[0] == "told":
         return len(value) == 3 and is_name(value[1]) and are_args(value[2])
-    return len(value) == 4 and is_number(value[1], least, bits - 1) and value[2] != value[3]
+    return len(value) == 4 and is_number(value[1], least, bits - 1)
 
 
 def parting(keys, entries, others):
